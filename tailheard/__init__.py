@@ -1,0 +1,1 @@
+"""Processions of any length whose groups hear their marshals' words late."""

@@ -1,0 +1,35 @@
+"""Lines that are read word by word."""
+
+from tailheard.errors import BadLine
+
+
+class LineWords:
+    """The words of a line, taken one after the other; BadLine at the first one that cannot stand where it stands."""
+
+    def __init__(self, lines, number):
+        if not isinstance(lines[number], str):
+            raise BadLine(number, 0)
+        self.number = number
+        self.words = lines[number].split(" ")
+        self.taken = 0
+
+    def is_over(self):
+        """Whether all words have been taken."""
+        return self.taken == len(self.words)
+
+    def take(self, allowed):
+        """The next word, which must be one of those allowed."""
+        if self.is_over() or self.words[self.taken] not in allowed:
+            raise BadLine(self.number, self.taken)
+        self.taken += 1
+        return self.words[self.taken - 1]
+
+    def take_integer(self, least, most):
+        """The integer that the next word writes, from the least to the most."""
+        # Only the plain way to write an integer is allowed, so the word is one of those that Python writes itself.
+        return int(self.take([str(number) for number in range(least, most + 1)]))
+
+    def finish(self):
+        """Let the line end here."""
+        if not self.is_over():
+            raise BadLine(self.number, self.taken)

@@ -1,0 +1,114 @@
+"""The names, arguments and methods that the interface lists for the modules that have been built."""
+
+import ast
+import inspect
+import importlib
+import pathlib
+import unittest
+
+ROOT = pathlib.Path(__file__).resolve().parent.parent
+
+# Each row: module, name, parameters, methods with their parameters (properties without), defined in the class itself.
+TOLD = """
+drills Drill(words, standings)
+    __len__(self) __getitem__(self, standing) __iter__(self) __eq__(self, other) __call__(self, standing, calling)
+    walk(self, standing, calling) is_steady
+makes Make(words, kinds, space=1, seats=())
+    all_names __getitem__(self, name) __contains__(self, name) __len__(self) __iter__(self) __eq__(self, other)
+    lag_of(self, name) seat_of(self, ahead, behind) reseated(self, seats)
+columns Column(make, groups)
+    delay_row front_row rest_length pairs __len__(self) __getitem__(self, number) __iter__(self) __eq__(self, other)
+    __add__(self, other)
+runs Run(column, calling, beats=None)
+    standings_at(self, beat) fronts_at(self, beat) gaps_at(self, beat) length_at(self, beat) __len__(self)
+    __iter__(self) first_breach(self, wish)
+plans Plan(states, ends=None)
+    __contains__(self, text) __call__(self, state, sign) strings(self, most) __len__(self) __iter__(self)
+    __eq__(self, other) least_text __or__(self, other) __and__(self, other) bearing(strings)
+plans least_plan(plan)
+heard steps(plan, state)
+heard is_heard(plan, text)
+heard hearing_states(plan, text)
+heard neighbours(make, plan)
+plantext read_plan(text)
+planpairs PlanPair(first, second)
+    __bool__(self) __len__(self) __iter__(self)
+planpairs judge_plans(first, second, table)
+lengths Lengths(make, plan)
+    __contains__(self, length) column_of(self, length)
+makelines write_make(make)
+makelines read_make(words, space, lines)
+planlines write_plan(plan)
+planlines read_plan_lines(ends, lines)
+betweens Betweens(make, ahead, behind, calls)
+    __len__(self) __iter__(self) __contains__(self, between) __getitem__(self, between) onward(self, between)
+gaps Gaps(make, ahead, behind, calls)
+    __len__(self) __iter__(self) bounds(self, between)
+gaps judge_gaps(make, ahead, behind, calls, table)
+kept Kept(make, columns, calls, wish)
+    __bool__(self) __len__(self) __iter__(self)
+kept judge_kept(make, columns, calls, wish, table)
+parted Parted(make, name, calls)
+    __bool__(self) __len__(self) __iter__(self)
+parted judge_parted(make, name, calls, table)
+needs need(make, ahead, behind, calls, least)
+needs seated(make, columns, calls, least)
+seating Seating(make, calls, least, groups)
+    __len__(self) __iter__(self)
+seating judge_seating(make, calls, least, groups, table)
+waits spaced_plan(words, wait)
+waits Waits(make, columns, words, wish)
+    __len__(self) __iter__(self)
+"""
+
+
+def members(line):
+    """The members of a line: names, with their parameters in brackets if they have some."""
+    found = []
+    depth = 0
+    word = ""
+    for letter in line.strip() + " ":
+        depth += (letter == "(") - (letter == ")")
+        if letter == " " and depth == 0:
+            found += [word] if word else []
+            word = ""
+        else:
+            word += letter
+    return found
+
+
+class InterfaceTest(unittest.TestCase):
+    def test_all_is_there(self):
+        owner = None
+        for line in TOLD.strip().split("\n"):
+            if line.startswith(" "):
+                for member in members(line):
+                    self.judge_member(owner, member)
+                continue
+            stem, told = line.split(" ", 1)
+            name = told.split("(")[0]
+            module = importlib.import_module(f"tailheard.{stem}")
+            owner = getattr(module, name)
+            self.assertEqual(f"{name}{inspect.signature(owner)}", told)
+            text = (ROOT / "tailheard" / f"{stem}.py").read_text()
+            defined = [node.name for node in ast.parse(text).body if isinstance(node, (ast.ClassDef, ast.FunctionDef))]
+            self.assertIn(name, defined)
+
+    def judge_member(self, owner, member):
+        name = member.split("(")[0]
+        self.assertIn(name, vars(owner), owner)
+        thing = vars(owner)[name]
+        if "(" not in member:
+            self.assertIsInstance(thing, property)
+        elif isinstance(thing, classmethod):
+            self.assertEqual(f"{name}{inspect.signature(getattr(owner, name))}", member)
+        else:
+            self.assertEqual(f"{name}{inspect.signature(thing)}", member)
+
+    def test_no_names_in_the_package_itself(self):
+        text = (ROOT / "tailheard" / "__init__.py").read_text()
+        self.assertFalse([node for node in ast.parse(text).body if not isinstance(node, ast.Expr)])
+
+
+if __name__ == "__main__":
+    unittest.main()
