@@ -35,8 +35,6 @@ class Column:
             return NotImplemented
         if not self.make == other.make:
             raise Unlike("make")
-        if len(self.groups) + len(other.groups) > MOST_GROUPS:
-            raise BadColumn(-1)
         return Column(self.make, self.groups + other.groups)
 
     @property

@@ -107,7 +107,6 @@ class Make:
 
     def body_of(self, name):
         """The length of a group of a kind at rest."""
-        self.check_name(name)
         return self._kind_of[name][2][Drill.REST][1]
 
     def reseated(self, seats):

@@ -13,7 +13,6 @@ HOME = ()
 
 def check_steady(make, name):
     """Raise Unknown unless there is a kind of this name, then NotSteady unless its drill is steady."""
-    make.check_name(name)
     if not make[name].is_steady:
         raise NotSteady(name)
 

@@ -29,5 +29,4 @@ def read_plan_lines(ends, lines):
         line = LineWords(lines, number)
         line.take(["state"])
         states.append(read_state(line))
-        line.finish()
     return Plan(states, ends)

@@ -8,7 +8,7 @@ class PlanPair:
     """Whether two plans are alike: a table of pairs if they are, the least string that parts them if not."""
 
     def __init__(self, first, second):
-        order, rows, sources = side_by_side(first.states, second.states, False)
+        order, rows, sources = side_by_side(first.states, second.states)
         self.table = tuple(order)
         self.text = None
         self.bearer = None

@@ -76,14 +76,14 @@ class Plan:
     def __or__(self, other):
         if not isinstance(other, Plan):
             return NotImplemented
-        order, rows, sources = side_by_side(self.states, other.states, False)
+        order, rows, sources = side_by_side(self.states, other.states)
         states, ends = least_rows(rows, [one in self.ends or two in other.ends for one, two in order])
         return Plan(states, ends)
 
     def __and__(self, other):
         if not isinstance(other, Plan):
             return NotImplemented
-        order, rows, sources = side_by_side(self.states, other.states, True)
+        order, rows, sources = side_by_side(self.states, other.states)
         flags = [one in self.ends and two in other.ends for one, two in order]
         if not hopeful(rows, flags)[0]:
             raise Empty()

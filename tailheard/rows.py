@@ -106,24 +106,11 @@ def moves_of(rows):
     return [{sign: onto for sign, onto in row} for row in rows]
 
 
-def joint_steps(one, two, both):
-    """The signs of two states, each with the pair to which it leads, None where it leads nowhere.
-
-    With `both` only those that lead on from both states; a state that is nowhere is an empty dict.
-    """
-    found = []
-    for sign in sorted(set(list(one) + list(two))):
-        pair = (one.get(sign), two.get(sign))
-        if not both or pair[0] is not None and pair[1] is not None:
-            found.append((sign, pair))
-    return found
-
-
-def side_by_side(first, second, both):
+def side_by_side(first, second):
     """The pairs of states to which the same strings lead, by their least strings, and the rows between them.
 
-    The rows are those of `first` and `second`; a side that leads nowhere is None. With `both` only pairs without
-    None are told. The last of the three is, for each pair, the number of the one before it and the sign from there.
+    `first` and `second` are the rows of both plans; a side that a string leads nowhere is None. The last of the
+    three is, for each pair, the number of the one before it and the sign from there.
     """
     moves = (moves_of(first), moves_of(second))
     order = [(0, 0)]
@@ -135,7 +122,8 @@ def side_by_side(first, second, both):
         here = {} if one is None else moves[0][one]
         there = {} if two is None else moves[1][two]
         row = []
-        for sign, pair in joint_steps(here, there, both):
+        for sign in sorted(set(list(here) + list(there))):
+            pair = (here.get(sign), there.get(sign))
             if pair not in number:
                 number[pair] = len(order)
                 order.append(pair)

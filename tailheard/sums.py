@@ -57,7 +57,7 @@ def least_sums(many, edges):
         if looped:
             # Sums go down for ever on a loop of sources: all nodes behind it are out, the others hear nothing of them.
             out = all_behind(looped, left)
-            left = [edge for edge in left if edge[0] not in out and edge[1] not in out]
+            left = [edge for edge in left if edge[1] not in out]
             sums = {node: sums[node] for node in sums if node not in out}
             sources = {node: sources[node] for node in sources if node not in out}
     return [sums.get(node) for node in range(many)]

@@ -20,8 +20,7 @@ class Tree:
         by_sign = {}
         for thing in self.groups[at]:
             for sign, onto in onward(thing):
-                if onto not in self.group_of:
-                    by_sign.setdefault(sign, {})[onto] = True
+                by_sign.setdefault(sign, {})[onto] = True
         for sign in sorted(by_sign):
             fresh = sorted([onto for onto in by_sign[sign] if onto not in self.group_of])
             for onto in fresh:

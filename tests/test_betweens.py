@@ -50,7 +50,8 @@ class BetweensTest(unittest.TestCase):
         self.assertIs((0, 0, 0, ".") in told, True)
         self.assertIs([0, 0, 0, "."] in told, True)
         self.assertEqual(told[[0, 1, 0, "a"]], "a")
-        for between in ((False, 0, 0, "."), (0, False, 0, "."), (0, 0, 0, ""), (0, 0, 0, ".."), (0, 0, 0), (1, 0, 0, "."),
+        for between in ((False, 0, 0, "."), (0, False, 0, "."), (0, 0, 0, ""), (0, 0, 0, ".."), (0, 0, 0),
+                        (1, 0, 0, "."),
                         (0, 0, 0, ".", 0), (0, 0, 1, "a"), None, True, 0, ".", (), [], [None], ([0], 0, 0, "."),
                         {0: 1}, (0, 0, 0, None), (-2, 0, 0, "."), ("0", 0, 0, "."), (0, 0, 0, ["."])):
             self.assertIs(between in told, False, between)

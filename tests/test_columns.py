@@ -56,6 +56,7 @@ class ColumnTest(unittest.TestCase):
         self.assertEqual(len(long + Column(MAKE, "B")), 60)
         self.assertEqual(raised(BadColumn, lambda: long + one).number, -1)
         self.assertEqual(long, Column(MAKE, "A" * 59))
+        self.assertRaises(TypeError, lambda: one + "BA")
 
 
 if __name__ == "__main__":

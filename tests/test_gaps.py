@@ -149,7 +149,9 @@ class JudgeTest(unittest.TestCase):
                     (-2, 0, 0, ".", 1, 1), (0, 2, 0, ".", 1, 1), (0, 0, -1, ".", 1, 1), (0, 0, 0, "", 1, 1),
                     (0, 0, 0, "..", 1, 1), (0, 0, 0, "c", 1, 1), (0, 0, 0, None, 1, 1), (True, 0, 0, ".", 1, 1),
                     (0, True, 0, ".", 1, 1), (0, 0, 0, ".", True, 1), (0, 0, 0, ".", 1, False),
-                    (0, 0, 0, ".", "1", 1), ([0], 0, 0, ".", 1, 1), (0, 0, 0, [], 1, 1), {0: 1}):
+                    (0, 0, 0, ".", "1", 1), ([0], 0, 0, ".", 1, 1),
+                    (-1, 0, 0, ".", True, 1), (-1, 0, 0, ".", 1, True), (3, 0, 0, ".", 1, 1), (-1, 0, 2, ".", 1, 1),
+                    (-1, -1, 0, ".", 1, 1), (0, 0, 0, [], 1, 1), {0: 1}):
             self.assertEqual(self.judge(*self.table, row), 5, row)
             self.assertEqual(self.judge(self.table[0], row, *self.table[2:]), 0, row)
 
@@ -159,6 +161,10 @@ class JudgeTest(unittest.TestCase):
         # The seat must lie between the bounds of the first between.
         self.assertEqual(self.judge(*self.changed(0, 0, 0, 0, ".", 2, 2)), 0)
         self.assertEqual(self.judge(*self.changed(0, 0, 0, 0, ".", 0, 0)), 0)
+        self.assertEqual(self.judge(*self.changed(0, 0, 0, 0, ".", 2, 1)), 0)
+        self.assertEqual(self.judge(*self.changed(0, 0, 0, 0, ".", 1, 0)), 0)
+        self.assertEqual(self.judge(*self.changed(0, 0, 0, 0, ".", None, 0)), 0)
+        self.assertEqual(self.judge(*self.changed(0, 0, 0, 0, ".", 2, None)), 0)
         # One pace too narrow at either end: the row from which a step leads there is not right.
         self.assertEqual(self.judge(*self.changed(1, 1, 1, 0, "a", 3, 2)), 0)
         self.assertEqual(self.judge(*self.changed(1, 1, 1, 0, "a", 2, 1)), 0)

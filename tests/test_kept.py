@@ -227,6 +227,8 @@ class JudgeTest(unittest.TestCase):
 
     def test_bounds_one_pace_less(self):
         self.assertEqual(self.judge(*self.changed(0, 0, 0, 0, ".", 2, 2)), 0)
+        self.assertEqual(self.judge(*self.changed(0, 0, 0, 0, ".", 2, 1)), 0)
+        self.assertEqual(self.judge(*self.changed(0, 0, 0, 0, ".", 1, 0), wish=(0, 2)), 0)
         self.assertEqual(self.judge(*self.changed(1, 1, 1, 0, "a", 2, 1)), 0)
         self.assertEqual(self.judge(*self.changed(1, 1, 1, 0, "a", 1, 2)), 1)
         self.assertEqual(self.judge(*self.changed(3, 2, 0, 1, "b", 2, 2)), 1)

@@ -46,7 +46,8 @@ class JudgeTest(unittest.TestCase):
         for seats in (None, 0, True, "AA", {}):
             self.assertEqual(raised(BadSeat, Make, "ab", [KIND], 1, seats).number, -1)
         good = ("A", "A", 0)
-        for seat in (None, 0, "AA1", (), ("A", "A"), ("A", "B", 1), ("B", "A", 1), ("A", "A", -1), ("A", "A", 41),
+        for seat in (None, 0, "AA1", (), ("A", "A"), ("A", "A", 1, 1), ("A", "B", 1), ("B", "A", 1),
+                     ("A", "A", -1), ("A", "A", 41),
                      ("A", "A", True), ("A", "A", None), ("", "A", 1), ("AA", "A", 1), (["A"], "A", 1), good):
             self.assertEqual(raised(BadSeat, Make, "ab", [KIND], 1, (good, seat)).number, 1, seat)
         self.assertEqual(Make("ab", [KIND], 1, [("A", "A", 40)]).seat_of("A", "A"), 40)

@@ -102,6 +102,7 @@ class SeatedTest(unittest.TestCase):
         self.assertEqual(raised(BadSign, seated, MAKE, ANY, ANY, -1).sign, "A")
         for least in (-1, 61, True, None):
             self.assertIs(raised(BadLeast, seated, MAKE, ANY, FREE, least).least, least)
+            self.assertIs(raised(BadLeast, seated, MAKE, Plan.bearing(["A"]), FREE, least).least, least)
         make, calls = crowd(601)
         self.assertEqual(raised(TooMany, seated, make, Plan.bearing(["CA", "AB"]), calls, 0).word, "between")
         # TooMany of later neighbours goes ahead of NoSeat of earlier ones.

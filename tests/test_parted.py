@@ -149,7 +149,8 @@ class JudgeTest(unittest.TestCase):
         many = len(self.table)
         good = self.table[0][0]
         for row in (None, 0, "ab", (), (good,), (good, 0, 0), (good, -1), (good, True), (good, None), (good, "0"),
-                    (None, 0), ((0, 0, 0, "."), 0), ((0, 2, 0, ".."), 0), ((5, 0, 0, ".."), 0), ((-2, 0, 0, ".."), 0),
+                    (None, 0), ((0, 0, 0), 0), ((*good, 0), 0), ((3, *good[1:]), 0), ((-1, 0, 2, ".."), 0),
+                    ((0, 0, 0, "."), 0), ((0, 2, 0, ".."), 0), ((5, 0, 0, ".."), 0), ((-2, 0, 0, ".."), 0),
                     ((0, True, 0, ".."), 0), (([0], 0, 0, ".."), 0), {0: 1}, (*good, 0)):
             self.assertEqual(self.judge(*self.table, row), many, row)
             self.assertEqual(self.judge(self.table[0], row, *self.table[2:]), 0, row)

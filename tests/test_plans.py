@@ -34,8 +34,8 @@ class JudgeTest(unittest.TestCase):
 
     def test_ends(self):
         states = [[("a", 1)], []]
-        for ends in ((), [], (2,), (-1,), (0, 0), (1, 0), (True,), (0, True), (None,), ("0",), 0, "01", True, {0: 0},
-                     (0, 1, 2)):
+        for ends in ((), [], (2,), (0, 2), (-1,), (-1, 0), (0, 0), (1, 0), (True,), (0, True), (None,), ("0",), 0,
+                     "01", True, {0: 0}, (0, 1, 2)):
             self.assertEqual(self.wrong(states, ends), -1, ends)
             self.assertEqual(self.wrong([None], ends), -1, ends)
         self.assertEqual(Plan(states, [1]).ends, (1,))
@@ -78,7 +78,7 @@ class PlanTest(unittest.TestCase):
         plan = Plan([[("a", 1)], [(".", 0), ("b", 2)], []], [0, 2])
         for text in ("", "a.", "ab", "a.ab", "a.a."):
             self.assertIs(text in plan, True, text)
-        for text in ("a", "b", ".", "aba", "a.a", "A", "?", None, 0, True, ["a", "."], ("a", "b"), b""):
+        for text in ("a", "b", ".", "aba", "a.a", "ba", "aab", "A", "?", None, 0, True, ["a", "."], ("a", "b"), b""):
             self.assertIs(text in plan, False, text)
         self.assertIs("" in Plan([[("a", 1)], []], [1]), False)
 
@@ -206,6 +206,10 @@ class JoinAndMeetTest(unittest.TestCase):
         one = Plan([[("a", (at + 1) % 59), ("b", 59)] for at in range(59)] + [[]], [59])
         two = Plan([[("a", (at + 1) % 59), ("c", 59)] for at in range(59)] + [[]], [59])
         raised(Empty, lambda: one & two)
+
+    def test_other_things(self):
+        self.assertRaises(TypeError, lambda: ring(3) | "a")
+        self.assertRaises(TypeError, lambda: ring(3) & None)
 
     def test_nothing_changes(self):
         one, two = ring(3), ring(20)

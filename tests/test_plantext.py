@@ -165,7 +165,7 @@ class LotsTest(unittest.TestCase):
         self.assertGreater(len(counts), 100)
 
     def test_the_empty_string_has_a_lot_of_its_own(self):
-        # 59 spots that are lots of their own, and the empty string: 60. It comes back to the beginning, yet is told twice.
+        # 59 spots that are lots of their own, and the empty string, though what follows is the same: 60.
         ring = "((a9)6a5)*"
         self.assertEqual(len(read_plan(ring)), 59)
         self.assertEqual(raised(TooMany, read_plan, "((a9)6a6)*").word, "state")
