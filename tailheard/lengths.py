@@ -16,7 +16,7 @@ def begun(make, plan):
     return [(make.body_of(name), (state, name)) for name, state in plan.states[0]]
 
 
-def onward(make, plan, point):
+def points_behind(make, plan, point):
     """What can stand behind a beginning of a column: how many paces are added, and the point behind it."""
     state, last = point
     return [(make.seat_of(last, name) + make.body_of(name), (onto, name)) for name, onto in plan.states[state]]
@@ -35,7 +35,7 @@ class Stock:
     def spread(self, length):
         """Tell which points stand behind those of a length."""
         for point in list(self.points[length]):
-            for paces, onto in onward(self.make, self.plan, point):
+            for paces, onto in points_behind(self.make, self.plan, point):
                 self.points[length + paces][onto] = True
 
     def is_length(self, length):
@@ -120,7 +120,7 @@ def least_groups(make, plan, length):
             seen[key] = True
         further = {}
         for key in layer:
-            for paces, point in onward(make, plan, key[1]):
+            for paces, point in points_behind(make, plan, key[1]):
                 onto = (key[0] + paces, point)
                 if onto[0] <= length and onto not in seen and onto not in further:
                     further[onto] = layer[key] + point[1]

@@ -194,6 +194,7 @@ class LanguageTest(unittest.TestCase):
                                             for each in node.names]
             tops = {node.name for node in tree.body if isinstance(node, ast.ClassDef)}
             tops |= set(taken) - set(self.top_names(path))
+            above = parents_of(tree)
             for node in ast.walk(tree):
                 where = f"{path.name}:{getattr(node, 'lineno', 0)}"
                 bound = None
@@ -207,6 +208,8 @@ class LanguageTest(unittest.TestCase):
                     self.assertNotIn(bound, tops, where)
                 elif isinstance(node, (ast.FunctionDef, ast.ClassDef)):
                     bound = node.name
+                    if isinstance(above[node], ast.FunctionDef):
+                        self.assertNotIn(bound, tops, where)
                 if bound is not None:
                     self.assertNotIn(bound, BUILTINS, where)
                     self.assertNotIn(bound, BARRED_NAMES, where)
