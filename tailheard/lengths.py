@@ -106,23 +106,26 @@ class Lengths:
         return Column(self.make, least_groups(self.make, self.plan, length))
 
 
+def next_layer(make, plan, length, layer, seen):
+    """The points first met one group behind those of a layer, up to a length, each with the least string to it."""
+    further = {}
+    for key in layer:
+        for paces, point in points_behind(make, plan, key[1]):
+            onto = (key[0] + paces, point)
+            if onto[0] <= length and onto not in seen and onto not in further:
+                further[onto] = layer[key] + point[1]
+    return further
+
+
 def least_groups(make, plan, length):
     """The least string of names with a length, where there is one; BadColumn if it has too many groups."""
-    layer = {}
-    for paces, point in begun(make, plan):
-        layer[(paces, point)] = point[1]
+    layer = {(paces, point): point[1] for paces, point in begun(make, plan)}
     seen = {}
-    for number in range(MOST_GROUPS):
+    for _ in range(MOST_GROUPS):
         for key in layer:
             if key[0] == length and key[1][0] in plan.ends:
                 return layer[key]
         for key in layer:
             seen[key] = True
-        further = {}
-        for key in layer:
-            for paces, point in points_behind(make, plan, key[1]):
-                onto = (key[0] + paces, point)
-                if onto[0] <= length and onto not in seen and onto not in further:
-                    further[onto] = layer[key] + point[1]
-        layer = further
+        layer = next_layer(make, plan, length, layer, seen)
     raise BadColumn(-1)

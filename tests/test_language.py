@@ -40,6 +40,8 @@ BARRED_WORDS = set("""type typing typing_extensions enum Enum IntEnum StrEnum Fl
 BARRED_ATTRIBUTES = set("""items keys values pop update append clear extend insert remove reverse setdefault sort args
     encode decode hex fromhex format format_map mro as_integer_ratio bit_count conjugate from_bytes is_integer
     to_bytes""".split())
+CHANGES = {"append", "clear", "extend", "insert", "pop", "remove", "reverse", "setdefault", "update"}
+VIEWS = {"items", "keys", "values"}
 LISTS_ONLY = {"any", "all", "min", "max", "sum", "sorted"}
 NODES = (ast.Global, ast.AsyncFunctionDef, ast.Await, ast.AsyncFor, ast.AsyncWith, ast.AnnAssign, ast.Div)
 
@@ -55,6 +57,57 @@ def parents_of(tree):
 
 def is_call_of(node, names):
     return isinstance(node, ast.Call) and isinstance(node.func, ast.Name) and node.func.id in names
+
+
+def names_gone_over(node):
+    """The names of what a loop goes over itself, not of a copy."""
+    if isinstance(node, ast.Name):
+        return {node.id}
+    if isinstance(node, (ast.IfExp, ast.BoolOp)):
+        parts = [node.body, node.orelse] if isinstance(node, ast.IfExp) else node.values
+        return {name for part in parts for name in names_gone_over(part)}
+    if is_call_of(node, {"enumerate", "zip", "reversed"}):
+        return {name for part in node.args for name in names_gone_over(part)}
+    if isinstance(node, ast.Call) and isinstance(node.func, ast.Attribute) and node.func.attr in VIEWS:
+        return names_gone_over(node.func.value)
+    return set()
+
+
+def names_changed(rows):
+    """The names of what some statements change in place."""
+    found = set()
+    for each in [inner for row in rows for inner in ast.walk(row)]:
+        thing = None
+        if isinstance(each, ast.Call) and isinstance(each.func, ast.Attribute) and each.func.attr in CHANGES:
+            thing = each.func.value
+        elif isinstance(each, ast.Subscript) and isinstance(each.ctx, (ast.Store, ast.Del)):
+            thing = each.value
+        elif isinstance(each, ast.AugAssign):
+            thing = each.target
+        if isinstance(thing, ast.Name):
+            found.add(thing.id)
+    return found
+
+
+def names_of_one_thing(function):
+    """For each name of a function all names that are given to the same thing anywhere in it."""
+    found = {}
+    for node in ast.walk(function):
+        if not isinstance(node, ast.Assign):
+            continue
+        pairs = []
+        for target in node.targets:
+            if isinstance(target, ast.Tuple) and isinstance(node.value, ast.Tuple):
+                pairs += list(zip(target.elts, node.value.elts))
+            else:
+                pairs.append((target, node.value))
+        for target, worth in pairs:
+            if isinstance(target, ast.Name):
+                joined = {target.id} | {name for name in names_gone_over(worth)}
+                joined |= {other for name in joined for other in found.get(name, set())}
+                for name in joined:
+                    found[name] = joined
+    return found
 
 
 class LanguageTest(unittest.TestCase):
@@ -256,16 +309,30 @@ class LanguageTest(unittest.TestCase):
                 self.assertRegex(ast.unparse(node), r"\n    return iter\(self(\.\w+)+\)$", where)
 
     def test_loops_leave_what_they_go_over(self):
-        changes = {"append", "clear", "extend", "insert", "pop", "remove", "reverse", "setdefault", "update"}
         for where, node in self.nodes(ast.For):
             over = {ast.unparse(each) for each in ast.walk(node.iter) if isinstance(each, (ast.Name, ast.Attribute))}
             if is_call_of(node.iter, {"list", "sorted", "tuple", "range"}):
                 over = set()
             for each in [inner for row in node.body for inner in ast.walk(row)]:
-                if isinstance(each, ast.Call) and isinstance(each.func, ast.Attribute) and each.func.attr in changes:
+                if isinstance(each, ast.Call) and isinstance(each.func, ast.Attribute) and each.func.attr in CHANGES:
                     self.assertNotIn(ast.unparse(each.func.value), over, where)
                 if isinstance(each, ast.Subscript) and isinstance(each.ctx, (ast.Store, ast.Del)):
                     self.assertNotIn(ast.unparse(each.value), over, where)
+
+    def test_loops_leave_what_has_a_second_name(self):
+        for path, function in self.functions:
+            names = names_of_one_thing(function)
+            for node in ast.walk(function):
+                if isinstance(node, ast.For):
+                    loops, rows = [node.iter], node.body
+                elif isinstance(node, (ast.ListComp, ast.DictComp, ast.SetComp)):
+                    loops, rows = [each.iter for each in node.generators], [node]
+                else:
+                    continue
+                over = set()
+                for each in loops:
+                    over |= {other for name in names_gone_over(each) for other in names.get(name, {name})}
+                self.assertEqual(over & names_changed(rows), set(), f"{path.name}:{node.lineno}")
 
     def test_words_and_escapes(self):
         for path in FILES:
