@@ -96,3 +96,9 @@ class Drill:
         """Raise NoStanding unless there is such a standing."""
         if not in_bounds(standing, 0, len(self.standings) - 1):
             raise NoStanding(standing)
+
+
+def led_by_two(drill, standing, signs):
+    """The standing to which a down sign and an up sign lead that are heard at one beat."""
+    words = "".join([sign for sign in signs if sign != "."])
+    return led(drill.words, drill.standings, standing, words or ".")[-1]

@@ -47,3 +47,9 @@ def neighbours(make, plan):
             for behind, further in rows[onto]:
                 found[(ahead, behind)] = True
     return tuple(sorted(found))
+
+
+def names_in(plan):
+    """The ascending string of the signs of the strings that a plan bears."""
+    rows, flags = trimmed(plan.states, flags_of(len(plan.states), plan.ends))
+    return "".join(sorted(set([sign for row in rows for sign, onto in row])))

@@ -18,6 +18,16 @@ def always_keeps(wish, gaps):
     return keeps(wish, gaps.least) and keeps(wish, gaps.greatest)
 
 
+def gaps_of_neighbours(make, columns, calls):
+    """The gaps of all neighbours of a column plan."""
+    return {pair: Gaps(make, pair[0], pair[1], calls) for pair in neighbours(make, columns)}
+
+
+def broken_pairs(gaps_of, wish):
+    """Those neighbours of which some gap does not keep a wish."""
+    return [pair for pair in gaps_of if not always_keeps(wish, gaps_of[pair])]
+
+
 def least_breaking(duo, wish):
     """The least string that leads two kinds to a gap that does not keep a wish, None if there is none."""
     def onward(point):
@@ -74,8 +84,8 @@ class Kept:
         check_column_plan(make, columns)
         check_calls(make, calls)
         bounds = wish_of(wish)
-        gaps_of = {pair: Gaps(make, pair[0], pair[1], calls) for pair in neighbours(make, columns)}
-        broken = [pair for pair in gaps_of if not always_keeps(bounds, gaps_of[pair])]
+        gaps_of = gaps_of_neighbours(make, columns, calls)
+        broken = broken_pairs(gaps_of, bounds)
         rows = [(*pair, *row) for pair in gaps_of for row in gaps_of[pair]]
         self.breach = breach_of(make, columns, calls, bounds, broken) if broken else None
         self.table = None if broken else tuple(rows)

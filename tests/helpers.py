@@ -136,3 +136,34 @@ def crowd(more):
     states += [[(sign, at % 9 + 1) for sign in ".abc"] for at in range(1, 10)]
     states += [[(".", at)] for at in range(11, 10 + row)] + [[]]
     return make, Plan(states, [9, len(states) - 1])
+
+
+def gap_row(make, ahead, behind, text):
+    """The gaps of two kinds when the one ahead has heard each beginning of a string."""
+    return [gap_behind(make, ahead, behind, text[:cut])[0] for cut in range(len(text) + 1)]
+
+
+def random_walkers(rng, words="ab", most=4):
+    """A random make of two kinds whose drills walk in both directions."""
+    rows = [(name, rng.randint(1, 2), random_standings(rng, len(words) + 1, most=most, stride=rng.choice([1, 1, 3])))
+            for name in "AB"]
+    return Make(words, rows, rng.randint(0, 5))
+
+
+def waited_texts(plan, signs, most):
+    """The strings with at most so many characters that are some silences and then a string that is heard."""
+    found = {"." * wait + text: True for text in heard_texts(plan, signs, most) for wait in range(most + 1 - len(text))}
+    return sorted(found, key=lambda text: (len(text), text))
+
+
+def late_word(silences, words):
+    """A plan that bears one string: so many silences, and then some words."""
+    states = [[(sign, at + 1)] for at, sign in enumerate("." * silences + words)]
+    return Plan([*states, []], [len(states)])
+
+
+def many_doubles(more):
+    """Two calling plans under which two walkers have 1,200 doubles, or 1,201."""
+    if more:
+        return late_word(17, "aa"), late_word(54, "b")
+    return late_word(18, "a"), late_word(54, "b")

@@ -286,6 +286,7 @@ class LanguageTest(unittest.TestCase):
                 properties.add(node.name)
         self.assertEqual(stored & BARRED_ATTRIBUTES, set())
         self.assertEqual(stored & properties, set())
+        self.assertEqual(stored & self.own_methods, set())
         values = {target.id for _, node in self.nodes(ast.ClassDef) for each in node.body
                   if isinstance(each, ast.Assign) for target in each.targets}
         for where, node in self.nodes(ast.Attribute):
