@@ -7,6 +7,7 @@ CAPITALS = "ABCDEFGHIJKLMNOPQRSTUVWXYZ"
 SIGNS = ".ABCDEFGHIJKLMNOPQRSTUVWXYZabcdefghijklmnopqrstuvwxyz"
 MOST_PACES = 60
 MOST_BEATS = 400
+MOST_NAME = 8
 
 
 def is_integer(thing):
@@ -72,6 +73,11 @@ def misplaced(text, letters, least, most):
 def is_text(thing, letters, least, most):
     """Whether a thing is a string of some letters with at least and at most so many characters."""
     return misplaced(thing, letters, least, most) is None
+
+
+def is_name(thing):
+    """Whether a thing is a name: a string of 1 to 8 small letters."""
+    return is_text(thing, SMALL, 1, MOST_NAME)
 
 
 def are_words(thing):

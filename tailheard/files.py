@@ -35,10 +35,7 @@ class File:
         # A number can be far too great for its column to be written out.
         if not in_bounds(n, 1, MOST_GROUPS):
             raise BadColumn(-1)
-        groups = self.head + self.part * n + self.tail
-        if len(groups) > MOST_GROUPS:
-            raise BadColumn(-1)
-        return Column(self.make, groups)
+        return Column(self.make, self.head + self.part * n + self.tail)
 
     def delay_of(self, n):
         """The delay of the last group of the column of a number."""

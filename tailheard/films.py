@@ -28,6 +28,14 @@ def film_of(column, calling, beats):
     return Film(column, moments)
 
 
+def still_of(column, called):
+    """The film of the one moment at which the head of a column has heard all of some signs."""
+    beat = len(called)
+    tracks = tracks_of(column.make, called, beat)
+    delays = column.delay_row
+    return Film(column, [[tracks[name][max(0, beat - delays[at])] for at, name in enumerate(column.groups)]])
+
+
 class Film:
     """The standings and the places of the fronts of a column from the beat 0 on.
 

@@ -1,8 +1,9 @@
 """Wishes: whether all gaps of all columns of a column plan keep one, whatever is called."""
 
+from tailheard.bounds import holds_seat, holds_steps
 from tailheard.checks import frozen, is_integer, is_letter, is_tuple, keeps, wish_of
 from tailheard.duos import Duo
-from tailheard.gaps import Gaps, holds_seat, holds_steps
+from tailheard.gaps import Gaps
 from tailheard.heard import neighbours
 from tailheard.plans import check_calls, check_column_plan
 from tailheard.trees import least_way

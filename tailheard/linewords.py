@@ -1,5 +1,6 @@
 """Lines that are read word by word."""
 
+from tailheard.checks import is_name
 from tailheard.errors import BadLine
 
 
@@ -28,6 +29,13 @@ class LineWords:
         """The integer that the next word writes, from the least to the most."""
         # Only the plain way to write an integer is allowed, so the word is one of those that Python writes itself.
         return int(self.take([str(number) for number in range(least, most + 1)]))
+
+    def take_amount(self, most):
+        """What the next word writes: an integer from 0 to the most, or a name."""
+        if not self.is_over() and is_name(self.words[self.taken]):
+            self.taken += 1
+            return self.words[self.taken - 1]
+        return self.take_integer(0, most)
 
     def finish(self):
         """Let the line end here."""

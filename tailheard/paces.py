@@ -44,14 +44,15 @@ def greatest_mean(moves):
     walks = greatest_walks(moves)
     many = len(moves)
     best = None
+    # As one can wait at the first node, as many signs as there are nodes lead to each node.
     for node in range(many):
         least = None
         for signs in range(many):
-            if walks[many][node] is not None and walks[signs][node] is not None:
+            if walks[signs][node] is not None:
                 mean = (walks[many][node] - walks[signs][node], many - signs)
                 if least is None or is_less(mean, least):
                     least = mean
-        if least is not None and (best is None or is_less(best, least)):
+        if best is None or is_less(best, least):
             best = least
     return lowest(best[0], best[1])
 

@@ -10,8 +10,6 @@ class Tandem:
     """
 
     def __init__(self, make, ahead, behind):
-        make.check_name(ahead)
-        make.check_name(behind)
         self.seat = make.seat_of(ahead, behind)
         self.lag = make.lag_of(ahead)
         self.signs = "." + make.words

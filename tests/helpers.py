@@ -1,5 +1,6 @@
 """Makes, plans and plain lookers that many tests share."""
 
+import itertools
 import random
 
 from tailheard.drills import Drill
@@ -167,3 +168,97 @@ def many_doubles(more):
     if more:
         return late_word(17, "aa"), late_word(54, "b")
     return late_word(18, "a"), late_word(54, "b")
+
+
+def plain_steps(plan, state):
+    """The steps of a hearing state from the attributes of the plan alone."""
+    if state == -1:
+        return [(".", -1)]
+    found = [(".", -2)] if state == -2 else []
+    found += list(plan.states[max(state, 0)])
+    if max(state, 0) in plan.ends:
+        found.append((".", -1))
+    return sorted(found)
+
+
+def plain_onward(make, ahead, behind, downs, ups, double):
+    """The triples of all steps of a double, told from the attributes of makes and plans alone."""
+    down, up, first, second, below, above = double
+
+    def led(name, standing, signs):
+        words = [sign for sign in signs if sign != "."] or ["."]
+        for word in words:
+            standing = make[name][standing][2][("." + make.words).index(word)]
+        return standing
+
+    found = []
+    for one, down_onto in plain_steps(downs, down):
+        for two, up_onto in plain_steps(ups, up):
+            leader, follower = led(ahead, first, (one, above[0])), led(behind, second, (below[0], two))
+            change = (make[ahead][leader][0] + make[ahead][first][1] - make[ahead][leader][1]
+                      - make[behind][follower][0])
+            found.append(((one, two), change, (down_onto, up_onto, leader, follower, below[1:] + one, above[1:] + two)))
+    return tuple(sorted(found))
+
+
+class Looker:
+    """How signs lead two neighbours whose gap must keep a wish, told beat by beat."""
+
+    def __init__(self, make, ahead, behind, wish):
+        rows = {name: standings for name, _, standings in make.kinds}
+        self.one, self.two = rows[ahead], rows[behind]
+        self.signs = "." + make.words
+        self.lag = make.lag_of(ahead)
+        self.seat = make.seat_of(ahead, behind)
+        self.wish = wish
+        self.known = {}
+
+    def beat(self, state, sign):
+        """The pair state behind a sign, None if the wish is broken."""
+        if state is not None and (state, sign) not in self.known:
+            first, second, window, gap = state
+            leader = self.one[first][2][self.signs.index(sign)]
+            follower = self.two[second][2][self.signs.index(window[0])]
+            gap += self.one[leader][0] + self.one[first][1] - self.one[leader][1] - self.two[follower][0]
+            onto = (leader, follower, window[1:] + sign, gap)
+            self.known[state, sign] = onto if self.wish[0] <= gap <= self.wish[1] else None
+        return None if state is None else self.known[state, sign]
+
+    def states(self):
+        windows = [text for text in all_texts(self.signs, self.lag) if len(text) == self.lag]
+        return list(itertools.product(range(len(self.one)), range(len(self.two)), windows,
+                                      range(self.wish[0], self.wish[1] + 1)))
+
+    def outcome(self, text):
+        """The pair state behind a calling; None if the wish is broken then or by silence."""
+        state = (0, 0, "." * self.lag, self.seat) if self.wish[0] <= self.seat <= self.wish[1] else None
+        for sign in text:
+            state = self.beat(state, sign)
+        last, seen = state, set()
+        while last is not None and last not in seen:
+            seen.add(last)
+            last = self.beat(last, ".")
+        return None if last is None else state
+
+    def kinds(self, texts):
+        """The least period, and the least lag for it, of passes of any of some strings over all pair states."""
+        states = self.states()
+        rows = []
+        for text in texts:
+            onward = {None: None}
+            for state in states:
+                last = state
+                for sign in text:
+                    last = self.beat(last, sign)
+                onward[state] = last
+            layers = [states]
+            for _ in range(100):
+                layers.append([onward[state] for state in layers[-1]])
+            rows.append(layers)
+        period = [period for period in range(1, 41) if all(row[60] == row[60 + period] for row in rows)][0]
+        lag = [lag for lag in range(61) if all(row[lag] == row[lag + period] for row in rows)][0]
+        return lag, period
+
+
+def plain_outcome(make, ahead, behind, wish, text):
+    return Looker(make, ahead, behind, wish).outcome(text)

@@ -2,7 +2,8 @@
 
 import unittest
 
-from helpers import FREE, WALK, many_doubles, raised, random_make, random_plan, seeded, two_kinds, walkers
+from helpers import (FREE, WALK, many_doubles, plain_onward, raised, random_make, random_plan, seeded, two_kinds,
+                     walkers)
 from tailheard.columns import Column
 from tailheard.doubles import Doubles
 from tailheard.errors import BadSign, NoBetween, TooMany, Unknown
@@ -12,37 +13,6 @@ from tailheard.plantext import read_plan
 from tailheard.talks import Talk
 
 FIRST = (-2, -2, 0, 0, ".", ".")
-
-
-def plain_steps(plan, state):
-    """The steps of a hearing state from the attributes of the plan alone."""
-    if state == -1:
-        return [(".", -1)]
-    found = [(".", -2)] if state == -2 else []
-    found += list(plan.states[max(state, 0)])
-    if max(state, 0) in plan.ends:
-        found.append((".", -1))
-    return sorted(found)
-
-
-def plain_onward(make, ahead, behind, downs, ups, double):
-    """The triples of all steps of a double."""
-    down, up, first, second, below, above = double
-
-    def led(name, standing, signs):
-        words = [sign for sign in signs if sign != "."] or ["."]
-        for word in words:
-            standing = make[name][standing][2][("." + make.words).index(word)]
-        return standing
-
-    found = []
-    for one, down_onto in plain_steps(downs, down):
-        for two, up_onto in plain_steps(ups, up):
-            leader, follower = led(ahead, first, (one, above[0])), led(behind, second, (below[0], two))
-            change = (make[ahead][leader][0] + make[ahead][first][1] - make[ahead][leader][1]
-                      - make[behind][follower][0])
-            found.append(((one, two), change, (down_onto, up_onto, leader, follower, below[1:] + one, above[1:] + two)))
-    return tuple(sorted(found))
 
 
 class DoublesTest(unittest.TestCase):

@@ -221,6 +221,10 @@ class LanguageTest(unittest.TestCase):
                 self.assertIn(ast.unparse(each).split(".")[-1], ("property", "setter", "staticmethod", "classmethod"))
         for where, node in self.nodes(ast.ClassDef):
             self.assertEqual(node.decorator_list, [], where)
+        for where, node in self.nodes(ast.Call):
+            for each in node.args:
+                if isinstance(each, ast.Starred):
+                    self.assertRegex(ast.unparse(each), r"^\*[a-z_]+(\.[a-z_]+)?$", where)
         for where, node in self.nodes(ast.Raise):
             self.assertTrue(node.exc is None or isinstance(node.exc, ast.Call), where)
         for where, node in self.nodes(ast.ExceptHandler):

@@ -227,6 +227,21 @@ class JudgeTest(unittest.TestCase):
         self.assertIsNone(judge_leads(self.make, alone, (1, 1), (1, 0), (*table, grows)))
         self.assertEqual(judge_leads(self.make, alone, (0, 2), (1, 0), (*table, grows)), 0)
 
+    def test_settled_rows(self):
+        # All joints that keep the wish are there; the first one that is settled for another goal is not right.
+        make = Make("ab", [("A", 1, WALK), ("B", 1, AWAY)])
+        table = Lead(make, self.columns, (0, 3), (1, 1)).table
+        self.assertIsNone(judge_leads(make, self.columns, (0, 3), (1, 1), table))
+        told = Lead(make, read_plan("AA"), (0, 3), (1, 1))
+        self.assertEqual(told.calling, "a")
+        alone = Make("ab", [("A", 1, ((0, 2, (0, 1, 0)), (1, 2, (1, 1, 0)), (0, 2, (2, 2, 2))))])
+        table = Lead(alone, ANY, (0, 3), (2,)).table
+        self.assertIsNone(judge_leads(alone, ANY, (0, 3), (2,), table))
+        lead = ((1,), ((0, "a", 2),))
+        self.assertEqual(Lead(alone, ANY, (0, 3), (1,)).calling, "a")
+        self.assertEqual(judge_leads(alone, ANY, (0, 3), (1,), table), table.index(lead))
+        self.assertEqual(judge_leads(alone, ANY, (0, 3), (0,), table), 0)
+
     def test_rows_without_the_form(self):
         good = self.table[3]
         for row in (None, 0, (), good[:1], (*good, ()), (good[0], good[1][:1]), ((0,), good[1]), ((0, 0, 0), good[1]),
@@ -236,7 +251,8 @@ class JudgeTest(unittest.TestCase):
                     (good[0], ((2, ".", 1), good[1][1])), (good[0], (good[1][0], (False, ".", 1))),
                     (good[0], (good[1][0], (0, "", 1))), (good[0], (good[1][0], (0, "..", 1))),
                     (good[0], (good[1][0], (0, "c", 1))), (good[0], (good[1][0], (0, ".", None))),
-                    (good[0], (good[1][0], (0, ".", True))), (good[0], (good[1][0], (0, None, 1))), "ab"):
+                    (good[0], (good[1][0], (0, ".", True))), (good[0], (good[1][0], (0, None, 1))), "ab", {},
+                    ({}, good[1]), (good[0], {}), (good[0], (good[1][0], {}))):
             self.assertEqual(self.judge(*self.table, row), len(self.table), row)
 
     def test_the_beginning(self):

@@ -272,13 +272,40 @@ class JudgeTest(unittest.TestCase):
                  for row in right]
         self.assertEqual(judge_rises(make, "A", calls, 0, 1, early), [row[:2] for row in early].index((8, 0)))
 
+    def test_gains_alone(self):
+        # `a` makes three paces at once, `b` one for each beat: for some beats it looks as if nothing were gained.
+        make = Make("ab", [("A", 1, ((0, 1, (0, 1, 2)), (3, 1, (0, 0, 0)), (1, 1, (2, 2, 2))))])
+        calls = read_plan("a|b")
+        right = Rises(make, "A", calls)
+        self.assertEqual((right.lag, right.rise((-2, 0), 3), right.rise((-2, 0), 4)), (3, 3, 4))
+        early = [(*row[:2], right.rise(row[:2], 2) - right.rise(row[:2], 1),
+                  tuple(right.rise(row[:2], beats) for beats in range(4))) for row in right]
+        self.assertEqual(early[0], (-2, 0, 0, (0, 3, 3, 3)))
+        self.assertEqual(judge_rises(make, "A", calls, 1, 1, early), 0)
+        self.assertIsNone(judge_rises(make, "A", calls, 3, 1, right.table))
+
+    def test_the_last_beat_of_the_period(self):
+        make = single(((0, 1, (0, 1)), (1, 1, (1, 1))))
+        calls = Plan(row_of_silences(4, [[("a", 5)], []]), [5])
+        right = Rises(make, "A", calls)
+        # Up to the beat 4 nothing is gained; the row behind it lies about its own gain.
+        rows = [(*row[:2], 0 if row[:2] in ((-2, 0), (1, 0)) else row[2],
+                 tuple(right.rise(row[:2], beats) for beats in range(6))) for row in right]
+        self.assertEqual(rows[0], (-2, 0, 0, (0, 0, 0, 0, 0, 1)))
+        self.assertEqual(judge_rises(make, "A", calls, 3, 1, rows), 0)
+        # The first beat is looked at as well.
+        first = (-2, 0, 1, (0, -1, *right.table[0][3][2:]))
+        self.assertEqual(right.lag, 4)
+        self.assertEqual(judge_rises(make, "A", calls, 4, 1, [first, *right.table[1:]]), 0)
+
     def test_rows_without_the_form(self):
         good = self.table[2]
         for row in (None, 0, (), good[:3], (*good, 0), (3, *good[1:]), (-3, *good[1:]), (True, *good[1:]),
                     (good[0], 2, *good[2:]), (good[0], -1, *good[2:]), (good[0], False, *good[2:]),
                     (*good[:2], None, good[3]), (*good[:2], True, good[3]), (*good[:3], good[3][:6]),
                     (*good[:3], (*good[3], 3)), (*good[:3], None), (*good[:3], "0000000"),
-                    (*good[:3], (False, *good[3][1:])), (*good[:3], (None, *good[3][1:])), "0011"):
+                    (*good[:3], (False, *good[3][1:])), (*good[:3], (None, *good[3][1:])), "0011", {},
+                    ({}, *good[1:]), (*good[:3], ({}, *good[3][1:]))):
             self.assertEqual(self.judge(*self.table, row), len(self.table), row)
             self.assertEqual(self.judge(row, *self.table), 0, row)
             self.assertIsNotNone(self.judge(*self.changed(2, row)))

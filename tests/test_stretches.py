@@ -3,7 +3,7 @@
 import unittest
 from math import gcd
 
-from helpers import FREE, hears, raised, random_make, random_plan, seeded, two_kinds, walkers
+from helpers import FREE, WALK, hears, raised, random_make, random_plan, seeded, two_kinds, walkers
 from tailheard.errors import BadNumber, BadSign, TooLong, TooMany
 from tailheard.files import File
 from tailheard.heard import steps
@@ -103,6 +103,13 @@ class StretchTest(unittest.TestCase):
         self.assertEqual((alone(1), alone.example(1), alone(2)), (5, "a", 7))
         self.assertEqual(Stretch(File(calm, "", "A", ""), FREE, least=True)(2), 3)
         self.assertEqual(Stretch(File(calm, "", "A", ""), FREE, least=True).example(1), "")
+
+    def test_the_way_to_the_best_twin(self):
+        # The last group is longer behind `b`; to stretch the column, `a` must be called ahead of it.
+        make = Make("ab", [("A", 1, WALK), ("B", 1, ((0, 2, (0, 0, 1)), (0, 6, (1, 1, 1))))])
+        told = Stretch(File(make, "A", "B", ""), read_plan("b|ab"))
+        self.assertEqual(told(1), 5 + 1 + 4)
+        self.check_example(File(make, "A", "B", ""), 1, read_plan("b|ab"), told)
 
     def test_against_plain_lookers(self):
         rng = seeded(150)

@@ -1,0 +1,126 @@
+"""Agreement: whether all groups of a kind stand alike when words from both ends have been heard."""
+
+from tailheard.checks import frozen
+from tailheard.duets import Duet
+from tailheard.heard import ENDED, WAITING
+from tailheard.parted import check_steady
+
+RESTING = (ENDED, WAITING)
+
+
+def is_quiet(double):
+    """Whether all has been heard, or nothing called."""
+    if double[0] not in RESTING or double[1] not in RESTING:
+        return False
+    return double[4] + double[5] == "." * len(double[4] + double[5])
+
+
+def is_unlike(double):
+    """Whether all has been heard and both groups stand unlike one another."""
+    return is_quiet(double) and double[2] != double[3]
+
+
+def steps_left(duet, order):
+    """For each double from which steps lead to an unlike one, how many of them there must be."""
+    sources = {}
+    for double in order:
+        for signs, change, onto in duet.moves(double):
+            sources.setdefault(onto, []).append(double)
+    left = {double: 0 for double in order if is_unlike(double)}
+    queue = list(left)
+    at = 0
+    while at < len(queue):
+        here = queue[at]
+        for source in sources.get(here, []):
+            if source not in left:
+                left[source] = left[here] + 1
+                queue.append(source)
+        at = at + 1
+    return left
+
+
+def nearer(duet, left, doubles):
+    """The triples (down sign, up sign, double) of the steps that lead some doubles nearer to an unlike one."""
+    found = []
+    for double in doubles:
+        for signs, change, onto in duet.moves(double):
+            if left.get(onto) == left[double] - 1:
+                found.append((signs[0], signs[1], onto))
+    return found
+
+
+def least_down(duet, left):
+    """The down string of the least pair, and the doubles to which each beginning of it can lead."""
+    layers = [[duet.beginning]]
+    text = ""
+    while left[layers[-1][0]] > 0:
+        onward = nearer(duet, left, layers[-1])
+        sign = min([down for down, up, onto in onward])
+        text = text + sign
+        layers.append(sorted(set([onto for down, up, onto in onward if down == sign])))
+    return text, layers
+
+
+def least_up(duet, left, down, layers):
+    """The up string of the least pair, where its down string and the doubles behind each beginning are known."""
+    hopeful = [layers[-1]]
+    for at in range(len(down) - 1, -1, -1):
+        further = hopeful[-1]
+        hopeful.append([double for double in layers[at] if leads(duet, left, double, down[at], further)])
+    text = ""
+    doubles = [duet.beginning]
+    for sign, further in zip(down, hopeful[-2::-1]):
+        onward = [(up, onto) for own, up, onto in nearer(duet, left, doubles) if own == sign and onto in further]
+        least = min(onward)[0]
+        text = text + least
+        doubles = sorted(set([onto for up, onto in onward if up == least]))
+    return text
+
+
+def leads(duet, left, double, sign, further):
+    """Whether a down sign leads a double to one of some further ones."""
+    return any([own == sign and onto in further for own, up, onto in nearer(duet, left, [double])])
+
+
+class Agree:
+    """Whether the groups of a kind agree: a table of doubles if they do, a pair of strings if not."""
+
+    def __init__(self, make, name, downs, ups):
+        check_steady(make, name)
+        duet = Duet(make, name, name, downs, ups)
+        order = duet.tree().ordered()
+        left = steps_left(duet, order)
+        self.breach = None
+        self.table = tuple(order)
+        if left:
+            down, layers = least_down(duet, left)
+            self.breach = (down, least_up(duet, left, down, layers))
+            self.table = None
+        self._rows = self.table or ()
+
+    def __bool__(self):
+        return self.breach is None
+
+    def __len__(self):
+        return len(self._rows)
+
+    def __iter__(self):
+        return iter(self._rows)
+
+
+def judge_agree(make, name, downs, ups, table):
+    """What is wrong with a table of doubles, None if it is closed."""
+    check_steady(make, name)
+    duet = Duet(make, name, name, downs, ups)
+    rows = frozen(table)
+    if not isinstance(rows, tuple):
+        return -1
+    told = {row: True for row in rows if duet.has_form(row)}
+    if duet.beginning not in told:
+        return -1
+    for at, row in enumerate(rows):
+        if not duet.has_form(row) or is_unlike(row):
+            return at
+        if not all([onto in told for signs, change, onto in duet.moves(row)]):
+            return at
+    return None
