@@ -5,12 +5,10 @@ from tailheard.duets import Duet
 from tailheard.heard import ENDED, WAITING
 from tailheard.parted import check_steady
 
-RESTING = (ENDED, WAITING)
-
 
 def is_quiet(double):
     """Whether all has been heard, or nothing called."""
-    if double[0] not in RESTING or double[1] not in RESTING:
+    if double[0] not in (ENDED, WAITING) or double[1] not in (ENDED, WAITING):
         return False
     return double[4] + double[5] == "." * len(double[4] + double[5])
 
@@ -61,25 +59,28 @@ def least_down(duet, left):
     return text, layers
 
 
-def least_up(duet, left, down, layers):
-    """The up string of the least pair, where its down string and the doubles behind each beginning are known."""
+def least_up(duet, left, layers):
+    """The up string of the least pair, where the doubles behind each beginning of its down string are known.
+
+    A double tells by its string below which down sign has led to it, so the down string need not be looked at.
+    """
     hopeful = [layers[-1]]
-    for at in range(len(down) - 1, -1, -1):
+    for doubles in layers[-2::-1]:
         further = hopeful[-1]
-        hopeful.append([double for double in layers[at] if leads(duet, left, double, down[at], further)])
+        hopeful.append([double for double in doubles if leads(duet, left, double, further)])
     text = ""
-    doubles = [duet.beginning]
-    for sign, further in zip(down, hopeful[-2::-1]):
-        onward = [(up, onto) for own, up, onto in nearer(duet, left, doubles) if own == sign and onto in further]
+    now = [duet.beginning]
+    for further in hopeful[-2::-1]:
+        onward = [(up, onto) for down, up, onto in nearer(duet, left, now) if onto in further]
         least = min(onward)[0]
         text = text + least
-        doubles = sorted(set([onto for up, onto in onward if up == least]))
+        now = sorted(set([onto for up, onto in onward if up == least]))
     return text
 
 
-def leads(duet, left, double, sign, further):
-    """Whether a down sign leads a double to one of some further ones."""
-    return any([own == sign and onto in further for own, up, onto in nearer(duet, left, [double])])
+def leads(duet, left, double, further):
+    """Whether a step leads a double to one of some further ones."""
+    return any([onto in further for down, up, onto in nearer(duet, left, [double])])
 
 
 class Agree:
@@ -94,7 +95,7 @@ class Agree:
         self.table = tuple(order)
         if left:
             down, layers = least_down(duet, left)
-            self.breach = (down, least_up(duet, left, down, layers))
+            self.breach = (down, least_up(duet, left, layers))
             self.table = None
         self._rows = self.table or ()
 

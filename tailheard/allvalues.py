@@ -7,7 +7,7 @@ from tailheard.checks import wish_of
 from tailheard.errors import HasAnswer, TooMany, Unlike
 from tailheard.maps import least_alike, product_of, tail_and_period, tuples_below
 from tailheard.pairstates import PairStates
-from tailheard.scores import Score, heads_of, names_of
+from tailheard.scores import Score, heads_of
 
 MOST_TUPLES = 300
 
@@ -34,14 +34,56 @@ def limits_of(kinds, names):
     return [kinds[name][0] + kinds[name][1] for name in names]
 
 
+def all_of_parts(score, parts):
+    """All that parts can make one behind the other, whatever the values: each variable stands in one of them alone."""
+    made = [tuple(score.net.unit)]
+    for part in parts:
+        further = all_of_part(score, part)
+        found = {}
+        for one in made:
+            for two in further:
+                found[tuple(score.net.joined(one, two))] = True
+        made = list(found)
+    return made
+
+
+def all_of_part(score, part):
+    """All that a part can make, passed as often as it tells."""
+    if not part.names:
+        return [score.of_part(part, {})]
+    found = {}
+    for once in all_passes(score, part):
+        if isinstance(part.amount, str):
+            for made in all_powers(score, once):
+                found[tuple(made)] = True
+        else:
+            found[tuple(score.power(once, part.amount))] = True
+    return list(found)
+
+
+def all_passes(score, part):
+    """All that a part can make, passed once."""
+    if part.sign is None:
+        return all_of_parts(score, part.parts)
+    return [score.net.of_sign(part.sign)]
+
+
+def all_powers(score, once):
+    """All that is made by one and the same any number of times."""
+    lag, period = tail_and_period(once)
+    made = [score.net.unit]
+    for _ in range(lag + period - 1):
+        made.append(score.net.joined(made[-1], once))
+    return made
+
+
 def kinds_of(score, most=None):
     """The pair (lag, period) of each variable; TooMany as soon as there are more than the most tuples of kinds."""
     kinds = {}
     for head in heads_of(score.parts):
-        inner = names_of(head.parts)
         lag, period = 0, 1
-        for row in tuples_below(limits_of(kinds, inner)):
-            tail, further = tail_and_period(score.of_pass(head, dict(zip(inner, row))))
+        for once in all_passes(score, head):
+            tail, further = tail_and_period(once)
             lag = max(lag, tail)
             period = lcm(period, further)
         kinds[head.amount] = (lag, period)

@@ -120,6 +120,21 @@ class AgreeTest(unittest.TestCase):
                 self.assertEqual(least_pair(make, "A", downs, ups, 4), told.breach)
         self.assertGreater(unlike, 2)
 
+    def test_ways_that_end(self):
+        # Beginnings of the up string that would be the least, but by which the down string leads nowhere.
+        make = Make("ab", [("A", 1, ((0, 1, (0, 4, 2)), (0, 2, (1, 0, 0)), (0, 3, (2, 1, 0)), (0, 3, (3, 1, 2)),
+                                     (-1, 3, (4, 4, 1))))])
+        downs = Plan([[(".", 1), ("a", 2), ("b", 2)], [("a", 3)], [], [("b", 2)]], [2])
+        ups = Plan([[(".", 1), ("a", 2), ("b", 1)], [("b", 3)], [("a", 4), ("b", 5)], [("a", 6)], [(".", 3)],
+                    [(".", 6)], []], [2, 6])
+        self.assertEqual(Agree(make, "A", downs, ups).breach, ("..a.", "ab.."))
+        self.assertEqual(least_pair(make, "A", downs, ups, 4), ("..a.", "ab.."))
+        make = Make("ab", [("A", 1, ((0, 3, (0, 0, 4)), (1, 3, (1, 4, 4)), (0, 2, (2, 1, 1)), (1, 1, (3, 2, 1)),
+                                     (1, 1, (4, 4, 1))))])
+        downs = Plan([[(".", 1)], [("b", 0)]])
+        ups = Plan([[(".", 0), ("a", 0), ("b", 1)], [(".", 0)]], [1])
+        self.assertEqual(Agree(make, "A", downs, ups).breach, ("...b.", "b.ab."))
+
     def test_against_columns(self):
         rng = seeded(202)
         verdicts = set()
@@ -205,6 +220,9 @@ class JudgeTest(unittest.TestCase):
         self.assertEqual(self.judge(*self.table, (-1, -1, 1, 0, ".", "b")), len(self.table))
         self.assertIsNone(self.judge(*self.table, (-1, -1, 0, 1, "a", "a")))
         self.assertEqual(self.judge((-1, -1, 0, 1, ".", "."), *self.table), 0)
+        # A word that one of them has not heard yet makes both alike.
+        self.assertIsNone(self.judge(*self.table, (-1, -1, 1, 0, "a", ".")))
+        self.assertIsNone(self.judge(*self.table, (-1, -1, 0, 1, ".", "a")))
 
     def test_rows_never_reached(self):
         self.assertNotIn((-1, -1, 0, 1, "a", "a"), self.table)

@@ -44,6 +44,30 @@ class KindsTest(unittest.TestCase):
         turn = program(("repeat", "x", (("say", "a"),)), ("wait", "y"), words="a")
         self.assertEqual(value_kinds(make, "A", "A", turn, (0, 41)), (("x", 3, 4), ("y", 42, 1)))
 
+    def test_values_within_a_body(self):
+        # Silence turns by three standings; a pass that waits turns too, one that does not wait leaves all as it is.
+        turn = ((0, 1, (0, 1)), (0, 1, (2, 1)), (0, 1, (3, 2)), (0, 1, (1, 3)))
+        make = Make("a", [("A", 1, turn)], 0)
+        looker = Looker(make, "A", "A", (0, 2))
+        for many in (1, 2, 3):
+            told = value_kinds(make, "A", "A", program(("repeat", "x", (("repeat", many, (("wait", "y"),)), ("say", "a"))),
+                                                       words="a"), (0, 2))
+            texts = ["." * (many * value) + "a" for value in range(9)]
+            self.assertEqual(told, (("x", *looker.kinds(texts)), ("y", *looker.kinds(["."]))))
+            self.assertEqual(told[0][2], 1 if many == 3 else 3)
+        both = program(("repeat", "x", (("wait", "y"), ("say", "a"), ("repeat", "z", (("say", "a"), ("wait", 1))))),
+                       words="a")
+        texts = ["." * one + "a" + "a." * two for one in range(8) for two in range(8)]
+        self.assertEqual(value_kinds(make, "A", "A", both, (0, 2))[0][1:], looker.kinds(texts))
+
+    def test_many_values_within_a_body(self):
+        # Silence that moves by one pace in five beats: 305 kinds of each inner value, gone through quickly.
+        slow = tuple((int(at == 1), 1, (at and at % 5 + 1, 1)) for at in range(6))
+        make = Make("a", [("A", 1, slow), ("B", 1, ((0, 1, (0, 0)), (0, 1, (1, 1))))], 5)
+        told = value_kinds(make, "A", "B", program(("repeat", "x", (("say", "a"), ("wait", "y"), ("say", "a"),
+                                                                    ("wait", "z"))), words="a"), (0, 60))
+        self.assertEqual(told, (("x", 31, 1), ("y", 305, 1), ("z", 305, 1)))
+
     def test_against_plain_lookers(self):
         rng = seeded(240)
         kinds = set()

@@ -195,8 +195,8 @@ class LanguageTest(unittest.TestCase):
                 if isinstance(node, ast.Assign):
                     self.assertEqual(len(node.targets), 1)
                     self.assertIsInstance(node.targets[0], ast.Name)
-                    self.assertFalse(any(isinstance(each, (ast.Call, ast.ListComp, ast.DictComp, ast.Set))
-                                         for each in ast.walk(node)), path.name)
+                    self.assertFalse(any(isinstance(each, (ast.Call, ast.ListComp, ast.DictComp, ast.Set, ast.Name))
+                                         for each in ast.walk(node.value)), path.name)
                 elif isinstance(node, ast.Expr):
                     self.assertIsInstance(node.value, ast.Constant)
                 else:

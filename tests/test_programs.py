@@ -70,7 +70,9 @@ class ProgramTest(unittest.TestCase):
                     ("say", "a", "b"), ("say", None), ("say", True), ("wait",), ("wait", 1, 2), ("repeat", 2),
                     ("repeat", 2, None), ("repeat", 2, "ab"), ("repeat", 2, (), ()), ("repeat", 2, {}), ("answer", 1),
                     ("Answer",), ("end",), (1,), (None, 2), ("say", "A"), ("wait", (1,)), ("repeat", "x"), {}, ("", ),
-                    (("answer",),), ("answer", None), True, ("say", ["a"]), ({}, 1), ({},), ("say", {})):
+                    (("answer",),), ("answer", None), True, ("say", ["a"]), ({}, 1), ({},), ("say", {}),
+                    ("call", "a"), ("pause", 3), ("until", 3, ()), ("say", 3, ()), ("repeat", "a"), ("wait", "a", ()),
+                    ("answer", "a"), (None, "a"), (1, 1), (None, 3, ())):
             self.assertEqual(raised(BadStatement, Program, "ab", [row]).number, 0, row)
             self.assertEqual(raised(BadStatement, Program, "ab", [("wait", 1), row, None]).number, 1, row)
             self.assertEqual(raised(BadStatement, Program, "ab", [("repeat", 2, [("wait", 1), row]), None]).number, 2)
