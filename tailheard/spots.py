@@ -84,7 +84,7 @@ class SpotNet:
         """The signs that can stand behind a lot, each with the lot to which it leads."""
         found = {}
         for spot in lot:
-            for onto in self.firsts if spot == BEGINNING else list(self.behind[spot]):
+            for onto in list(self.firsts if spot == BEGINNING else self.behind[spot]):
                 found.setdefault(self.signs[onto], {})[onto] = True
         return [(sign, tuple(sorted(found[sign]))) for sign in sorted(found)]
 

@@ -324,6 +324,13 @@ class LanguageTest(unittest.TestCase):
                 if isinstance(each, ast.Subscript) and isinstance(each.ctx, (ast.Store, ast.Del)):
                     self.assertNotIn(ast.unparse(each.value), over, where)
 
+    def test_loops_go_over_no_choice(self):
+        for where, node in self.nodes(ast.For, ast.comprehension):
+            self.assertNotIsInstance(node.iter, (ast.IfExp, ast.BoolOp), where)
+            if is_call_of(node.iter, {"enumerate", "zip", "reversed"}):
+                for each in node.iter.args:
+                    self.assertNotIsInstance(each, (ast.IfExp, ast.BoolOp), where)
+
     def test_loops_leave_what_has_a_second_name(self):
         for path, function in self.functions:
             names = names_of_one_thing(function)
