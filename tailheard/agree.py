@@ -49,7 +49,7 @@ def nearer(duet, left, doubles):
 
 def least_down(duet, left):
     """The down string of the least pair, and the doubles to which each beginning of it can lead."""
-    layers = [[duet.beginning]]
+    layers = [[duet.origin]]
     text = ""
     while left[layers[-1][0]] > 0:
         onward = nearer(duet, left, layers[-1])
@@ -69,7 +69,7 @@ def least_up(duet, left, layers):
         further = hopeful[-1]
         hopeful.append([double for double in doubles if leads(duet, left, double, further)])
     text = ""
-    now = [duet.beginning]
+    now = [duet.origin]
     for further in hopeful[-2::-1]:
         onward = [(up, onto) for down, up, onto in nearer(duet, left, now) if onto in further]
         least = min(onward)[0]
@@ -117,7 +117,7 @@ def judge_agree(make, name, downs, ups, table):
     if not isinstance(rows, tuple):
         return -1
     told = {row: True for row in rows if duet.has_form(row)}
-    if duet.beginning not in told:
+    if duet.origin not in told:
         return -1
     for at, row in enumerate(rows):
         if not duet.has_form(row) or is_unlike(row):

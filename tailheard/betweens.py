@@ -13,7 +13,7 @@ class Betweens:
 
     def __init__(self, make, ahead, behind, calls):
         duo = Duo(make, ahead, behind, calls)
-        tree = whole_tree(duo.beginning, lambda between: duo.signs_onward(between), MOST_BETWEENS, "between")
+        tree = whole_tree(duo.origin, lambda between: duo.signs_onward(between), MOST_BETWEENS, "between")
         found = tree.ordered()
         self.make = make
         self.ahead = ahead

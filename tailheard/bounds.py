@@ -41,7 +41,7 @@ def is_bound(worth):
 
 def holds_seat(net, thing, low, high):
     """Whether a low and a high leave room for the seat, if this is the beginning."""
-    if thing != net.beginning:
+    if thing != net.origin:
         return True
     return (low is None or low <= net.seat) and (high is None or high >= net.seat)
 
@@ -61,7 +61,7 @@ def holds_steps(net, told, thing, low, high):
 
 def has_row_form(net, row):
     """Whether a row has the form of a thing with its low and its high."""
-    many = len(net.beginning)
+    many = len(net.origin)
     if not is_tuple(row, many + 2, many + 2) or not is_bound(row[many]) or not is_bound(row[many + 1]):
         return False
     return net.has_form(row[:many])
@@ -72,12 +72,12 @@ def judge_bounds(net, table):
     rows = frozen(table)
     if not isinstance(rows, tuple):
         return -1
-    many = len(net.beginning)
+    many = len(net.origin)
     told = {}
     for row in rows:
         if has_row_form(net, row):
             told.setdefault(row[:many], row[many:])
-    if net.beginning not in told:
+    if net.origin not in told:
         return -1
     for at, row in enumerate(rows):
         if not has_row_form(net, row) or not holds_seat(net, row[:many], row[many], row[many + 1]):

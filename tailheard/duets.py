@@ -22,7 +22,7 @@ class Duet:
         check_calls(make, ups)
         silences = "." * tandem.lag
         self.seat = tandem.seat
-        self.beginning = (WAITING, WAITING, 0, 0, silences, silences)
+        self.origin = (WAITING, WAITING, 0, 0, silences, silences)
         self._tandem = tandem
         self._downs = {state: steps(downs, state) for state in range(WAITING, len(downs))}
         self._ups = {state: steps(ups, state) for state in range(WAITING, len(ups))}
@@ -46,7 +46,7 @@ class Duet:
 
     def tree(self):
         """The tree of all doubles; TooMany if there are more than 1,200."""
-        return whole_tree(self.beginning, lambda double: self.signs_onward(double), MOST_DOUBLES, "double")
+        return whole_tree(self.origin, lambda double: self.signs_onward(double), MOST_DOUBLES, "double")
 
     def has_form(self, thing):
         """Whether a thing has the form of a double of these kinds."""

@@ -16,7 +16,7 @@ class Duo:
         tandem = Tandem(make, ahead, behind)
         check_calls(make, calls)
         self.seat = tandem.seat
-        self.beginning = (0, 0, 0, "." * tandem.lag)
+        self.origin = (0, 0, 0, "." * tandem.lag)
         self._tandem = tandem
         self._heard = {state: steps(calls, state) for state in range(ENDED, len(calls))}
 

@@ -36,7 +36,7 @@ class Joints:
         self._tandems = [Tandem(make, ahead, behind) for ahead, behind in pairs]
         self._goal = tuple([ready[make.all_names.index(name)] for name in names])
         triples = [(0, "." * tandem.lag, tandem.seat) for tandem in self._tandems]
-        self.beginning = ((0,) * len(names), tuple(triples))
+        self.origin = ((0,) * len(names), tuple(triples))
 
     def are_kept(self, joint):
         """Whether all gaps of a joint keep the wish."""

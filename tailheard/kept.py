@@ -43,7 +43,7 @@ def least_breaking(duo, wish):
 
     if not keeps(wish, duo.seat):
         return ""
-    way = least_way((duo.beginning, duo.seat), onward, FOUND)
+    way = least_way((duo.origin, duo.seat), onward, FOUND)
     return None if way is None else "".join(way)
 
 
@@ -141,7 +141,7 @@ def judge_kept(make, columns, calls, wish, table):
     judge = KeptJudge(make, columns, calls, wish)
     rows = frozen(table)
     told = judge.told(rows) if isinstance(rows, tuple) else None
-    if told is None or not all([judge.duos[pair].beginning in told[pair] for pair in judge.near]):
+    if told is None or not all([judge.duos[pair].origin in told[pair] for pair in judge.near]):
         return -1
     for at, row in enumerate(rows):
         if not judge.has_form(row) or not judge.is_right(told, row):

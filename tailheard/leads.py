@@ -9,7 +9,7 @@ MOST_JOINTS = 800
 
 def least_lead(joints):
     """The least lead, None if there is none, and the joints that are listed ahead of it."""
-    first = joints.beginning
+    first = joints.origin
     if joints.is_settled(first):
         return "", ()
     texts = {first: ""}
@@ -35,7 +35,7 @@ class Lead:
     def __init__(self, make, columns, wish, goal):
         joints = Joints(make, columns, wish, goal)
         calling, listed = None, ()
-        if joints.are_kept(joints.beginning):
+        if joints.are_kept(joints.origin):
             calling, listed = least_lead(joints)
         self.calling = calling
         self.table = listed if calling is None else None
@@ -61,13 +61,13 @@ def is_right(joints, told, row):
 def judge_leads(make, columns, wish, goal, table):
     """What is wrong with a table of joints, None if it is closed."""
     joints = Joints(make, columns, wish, goal)
-    if not joints.are_kept(joints.beginning):
+    if not joints.are_kept(joints.origin):
         return None
     rows = frozen(table)
     if not isinstance(rows, tuple):
         return -1
     told = {row: True for row in rows if joints.has_form(row)}
-    if joints.beginning not in told:
+    if joints.origin not in told:
         return -1
     for at, row in enumerate(rows):
         if not joints.has_form(row) or not is_right(joints, told, row):

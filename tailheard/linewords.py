@@ -1,6 +1,6 @@
 """Lines that are read word by word."""
 
-from tailheard.checks import is_name
+from tailheard.checks import is_name, is_text
 from tailheard.errors import BadLine
 
 
@@ -29,6 +29,13 @@ class LineWords:
         """The integer that the next word writes, from the least to the most."""
         # Only the plain way to write an integer is allowed, so the word is one of those that Python writes itself.
         return int(self.take([str(number) for number in range(least, most + 1)]))
+
+    def take_text(self, letters, least, most):
+        """The next word, which must be a string of some letters with at least and at most so many characters."""
+        if self.is_over() or not is_text(self.words[self.taken], letters, least, most):
+            raise BadLine(self.number, self.taken)
+        self.taken += 1
+        return self.words[self.taken - 1]
 
     def take_amount(self, most):
         """What the next word writes: an integer from 0 to the most, or a name."""

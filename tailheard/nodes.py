@@ -17,7 +17,7 @@ class Nodes:
     def __init__(self, make, name, calls):
         make.check_name(name)
         check_calls(make, calls)
-        self.beginning = (WAITING, 0)
+        self.origin = (WAITING, 0)
         self._signs = "." + make.words
         self._standings = make[name].standings
         self._heard = {state: steps(calls, state) for state in range(WAITING, len(calls))}
@@ -36,7 +36,7 @@ class Nodes:
         def onward(node):
             return [(sign, onto) for sign, stride, onto in self.moves(node)]
 
-        return whole_tree(self.beginning, onward, MOST_NODES, "node").ordered()
+        return whole_tree(self.origin, onward, MOST_NODES, "node").ordered()
 
     def has_form(self, thing):
         """Whether a thing has the form of a node."""

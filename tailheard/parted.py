@@ -99,7 +99,7 @@ def judge_parted(make, name, calls, table):
     for row in rows:
         if has_row_form(duo, row):
             ranks.setdefault(row[0], row[1])
-    if duo.beginning not in ranks:
+    if duo.origin not in ranks:
         return -1
     for at, row in enumerate(rows):
         if not has_row_form(duo, row) or not is_right(duo, ranks, row[0], row[1]):

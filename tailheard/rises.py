@@ -140,7 +140,7 @@ def judge_rises(make, name, calls, lag, period, table, *, falls=False):
         return -1
     judge = RisesJudge(nodes, lag, period, falls)
     judge.take_up(rows)
-    if nodes.beginning not in judge.known:
+    if nodes.origin not in judge.known:
         return -1
     for at, row in enumerate(rows):
         if not judge.has_form(row) or not judge.is_right(row):

@@ -174,6 +174,28 @@ def tree_of(texts):
     return rows, flags_of(len(rows), found)
 
 
+def rows_of_lots(first, onward, most, word):
+    """All lots to which signs lead from the first one, and the rows between them; TooMany above the most.
+
+    `onward` tells the pairs (sign, lot) of a lot, ascending by signs.
+    """
+    lots = [first]
+    number = {first: 0}
+    rows = []
+    while len(rows) < len(lots):
+        row = []
+        here = lots[len(rows)]
+        for sign, lot in onward(here):
+            if lot not in number:
+                number[lot] = len(lots)
+                lots.append(lot)
+            row.append((sign, number[lot]))
+        if len(lots) > most:
+            raise TooMany(word)
+        rows.append(row)
+    return lots, rows
+
+
 def hopes_by_length(rows, flags, most):
     """For each number of signs up to the most, for each state whether so many signs lead to an end."""
     layers = [flags]

@@ -5,9 +5,9 @@ trees `("choice", trees)`, a tree so many times `("times", tree, number)`, any n
 any number of times from 1 `("plus", tree)`, or once or not at all `("maybe", tree)`.
 """
 
-from tailheard.errors import TooLong, TooMany
+from tailheard.errors import TooLong
 from tailheard.plans import Plan
-from tailheard.rows import MOST_STATES, least_rows
+from tailheard.rows import MOST_STATES, least_rows, rows_of_lots
 
 MOST_SPOTS = 200
 BEGINNING = -1
@@ -99,19 +99,6 @@ def plan_of_tree(tree):
     if many > MOST_SPOTS:
         raise TooLong(many)
     net = SpotNet(tree)
-    lots = [(BEGINNING,)]
-    number = {lots[0]: 0}
-    rows = []
-    while len(rows) < len(lots):
-        row = []
-        here = lots[len(rows)]
-        for sign, lot in net.onward(here):
-            if lot not in number:
-                number[lot] = len(lots)
-                lots.append(lot)
-            row.append((sign, number[lot]))
-        if len(lots) > MOST_STATES:
-            raise TooMany("state")
-        rows.append(row)
+    lots, rows = rows_of_lots((BEGINNING,), lambda lot: net.onward(lot), MOST_STATES, "state")
     states, ends = least_rows(rows, [net.is_end(lot) for lot in lots])
     return Plan(states, ends)

@@ -16,7 +16,7 @@ class Twins:
     """The twins of two kinds under a calling plan: how both stand when they have heard the same string."""
 
     def __init__(self, make, first, last, calls):
-        self.beginning = (WAITING, 0, 0)
+        self.origin = (WAITING, 0, 0)
         self._calls = calls
         self._signs = "." + make.words
         self._first = make[first].standings
@@ -38,7 +38,7 @@ class Twins:
         def onward(twin):
             return [(sign, onto) for sign, difference, onto in self.moves(twin)]
 
-        return whole_tree(self.beginning, onward, MOST_NODES, "node").ordered()
+        return whole_tree(self.origin, onward, MOST_NODES, "node").ordered()
 
     def rest_less(self, two):
         """By how much the body of the last group is greater in a standing than at rest."""
@@ -114,7 +114,7 @@ class Stretch:
             return [(sign, onto) for sign, difference, onto in self._twins.moves(twin)
                     if self._leads[onto] == self._leads[twin] + difference]
 
-        return "".join(least_way(self._twins.beginning, onward, goal))
+        return "".join(least_way(self._twins.origin, onward, goal))
 
     def text_behind(self, node, beats):
         """A string of so many signs from a node on that has its rise (or fall)."""

@@ -262,3 +262,86 @@ class Looker:
 
 def plain_outcome(make, ahead, behind, wish, text):
     return Looker(make, ahead, behind, wish).outcome(text)
+
+
+def plain_beat(places, ways, rules, situation, offer):
+    """The situation behind a beat, the ways that are left and the ways that rest, told group by group."""
+    groups, waiting, memories = situation
+    waits = [wait or sign == "g" for wait, sign in zip(waiting, offer)]
+    here = {ways[way][index]: (way, index) for way, index in groups}
+    claims = {}
+    for way in range(len(ways)):
+        if waits[way]:
+            claims[way, 0] = "entrance"
+    for way, index in groups:
+        if index + 1 < len(ways[way]):
+            claims[way, index + 1] = (way, index)
+    onward, after = {}, list(memories)
+    for place in range(places):
+        own = sorted(spot for spot in claims if ways[spot[0]][spot[1]] == place)
+        if place in here or not own:
+            continue
+        spot = own[0]
+        for at, memory, sight, told, further in rules:
+            if at == place and memory == memories[place] and all(
+                    sign == "?" or (sign == "#") == (each in here) for each, sign in enumerate(sight)):
+                spot, after[place] = told, further
+                break
+        if spot in claims:
+            onward[spot] = claims[spot]
+    moved = list(onward.values())
+    left = [(way, index) for way, index in groups if index == len(ways[way]) - 1]
+    stay = [spot for spot in groups if spot not in moved and spot not in left]
+    further = (tuple(sorted(stay + list(onward))), tuple(int(bool(wait) and (way, 0) not in onward)
+                                                         for way, wait in enumerate(waits)), tuple(after))
+    rests = tuple(way for way in range(len(ways)) if (waits[way] or any(spot[0] == way for spot in groups))
+                  and not any(spot[0] == way for spot in list(onward) + left))
+    return further, tuple(way for way, _ in left), rests
+
+
+def random_crossing(rng, places=None, ways=None, most_rules=4, longest=4):
+    """The places, ways and rules of a random crossing."""
+    from tailheard.crossings import Crossing
+    while True:
+        many = places or rng.randint(2, 4)
+        rows = []
+        for _ in range(ways or rng.randint(1, 2)):
+            row = [rng.randrange(many)]
+            for _ in range(rng.randint(0, longest - 1)):
+                row.append(rng.choice([place for place in range(many) if place != row[-1]]))
+            rows.append(tuple(row))
+        spots = [(way, index) for way, row in enumerate(rows) for index in range(len(row))]
+        rules = []
+        for _ in range(rng.randint(0, most_rules)):
+            way, index = rng.choice(spots)
+            rules.append((rows[way][index], rng.randint(0, 1), "".join(rng.choice("???.#") for _ in range(many)),
+                          rng.choice([(way, index), (way, index), None]), rng.randint(0, 2)))
+        try:
+            return Crossing(many, rows, rules)
+        except ValueError:
+            continue
+
+
+def plain_obstacle(obstacle, stream):
+    """What comes out of an obstacle, told group by group."""
+    arrivals = {}
+    row = 0
+    for beat, sign in enumerate(stream):
+        if sign != ".":
+            branch, row = obstacle.table[row][obstacle.names.index(sign)]
+            order = branch if obstacle.first == 0 else 1 - branch
+            arrivals.setdefault(beat + obstacle.delays[branch], []).append((order, sign))
+    queue = []
+    out = ""
+    for beat in range(len(stream)):
+        queue += [sign for _, sign in sorted(arrivals.get(beat, []))]
+        out += queue.pop(0) if queue else "."
+    return out
+
+
+def random_obstacle(rng, names="AB", most=4):
+    """A random obstacle."""
+    from tailheard.obstacles import Obstacle
+    rows = rng.randint(1, 4)
+    table = [[(rng.randint(0, 1), rng.randrange(rows)) for _ in names] for _ in range(rows)]
+    return Obstacle(names, table, (rng.randint(1, most), rng.randint(1, most)), rng.randint(0, 1))

@@ -110,6 +110,31 @@ rehearsals Rehearsal(column)
 rehearsals Trial(rehearsal)
     __enter__(self) __exit__(self, kind, value, trace)
 rehearsals rehearsed(rehearsal, deeds)
+crossings Crossing(places, ways, rules=())
+    beginning all_offers __len__(self) __iter__(self) __eq__(self, other) beat(self, situation, offer)
+    rests(self, situation, offer) run(self, offers) __add__(self, other) without(self, number) situations(self)
+through Through(crossing)
+    __bool__(self) __len__(self) __iter__(self)
+through judge_through(crossing, table)
+crossingpairs CrossingPair(first, second)
+    __bool__(self) __len__(self) __iter__(self)
+crossingpairs judge_crossings(first, second, table)
+leancrossings needless(crossing)
+leancrossings lean(crossing)
+leastrules least_rules(crossing, menu)
+crossinglines write_crossing(crossing)
+crossinglines read_crossing(places, lines)
+obstacles Obstacle(names, table, delays, first=0)
+    beginning plain(names, part, delays, first=0) beat(self, inside, sign) __call__(self, stream) __eq__(self, other)
+chains Chain(obstacles)
+    __call__(self, stream) __add__(self, other) __mul__(self, times) __len__(self) __iter__(self)
+    __eq__(self, other)
+orders KeepsOrder(obstacle, plan)
+    __bool__(self) __len__(self) __iter__(self)
+orders judge_order(obstacle, plan, table)
+orders spaced_streams(names, spacing)
+orders least_spacing(obstacle)
+outplans out_plan(chain, plan)
 """
 
 
@@ -151,7 +176,7 @@ class InterfaceTest(unittest.TestCase):
         thing = vars(owner)[name]
         if "(" not in member:
             self.assertIsInstance(thing, property)
-        elif isinstance(thing, classmethod):
+        elif isinstance(thing, (classmethod, staticmethod)):
             self.assertEqual(f"{name}{inspect.signature(getattr(owner, name))}", member)
         else:
             self.assertEqual(f"{name}{inspect.signature(thing)}", member)
