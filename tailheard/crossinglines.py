@@ -1,7 +1,7 @@
 """Crossings written as lines, and read from them."""
 
 from tailheard.crossings import MOST_MEMORY, MOST_PLACES, MOST_WAY, SIGHTS, Crossing
-from tailheard.linewords import LineWords
+from tailheard.linewords import read_all
 
 NOBODY = "-"
 
@@ -30,9 +30,14 @@ def write_crossing(crossing):
 class CrossingReader:
     """A crossing as far as its lines have been read."""
 
-    def __init__(self):
+    def __init__(self, places):
+        self._places = places
         self._ways = []
         self._rules = []
+
+    def is_open(self):
+        """Whether an `end` would end something in it."""
+        return False
 
     def read(self, line):
         """Take up one line."""
@@ -51,14 +56,11 @@ class CrossingReader:
             self._rules.append((place, memory, sight, spot, line.take_integer(0, MOST_MEMORY)))
         line.finish()
 
-    def made(self, places):
-        """The crossing with so many places that the lines tell."""
-        return Crossing(places, self._ways, self._rules)
+    def made(self):
+        """The crossing that the lines tell."""
+        return Crossing(self._places, self._ways, self._rules)
 
 
 def read_crossing(places, lines):
     """The crossing with so many places that lines tell."""
-    reader = CrossingReader()
-    for number in range(len(lines)):
-        reader.read(LineWords(lines, number))
-    return reader.made(places)
+    return read_all(CrossingReader(places), lines)

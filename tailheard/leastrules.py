@@ -3,20 +3,10 @@
 from tailheard.checks import frozen, is_tuple
 from tailheard.crossings import MOST_RULES, Crossing, check_rules
 from tailheard.errors import BadRule
+from tailheard.maps import choices_below
 from tailheard.through import Through
 
 MOST_MENU = 5
-
-
-def choices_of(many):
-    """All ascending tuples of numbers below so many, ordered by length, then as tuples."""
-    found = [()]
-    layer = found[:]
-    while layer:
-        layer = [(*choice, number) for choice in layer for number in range(many)
-                 if not choice or number > choice[-1]]
-        found = [*found, *layer]
-    return found
 
 
 def least_rules(crossing, menu):
@@ -26,7 +16,7 @@ def least_rules(crossing, menu):
         raise BadRule(-1)
     check_rules(crossing.places, crossing.ways, rows, MOST_MENU)
     found = []
-    for choice in choices_of(len(rows)):
+    for choice in choices_below(len(rows)):
         if not any([all([number in choice for number in part]) for part in found]):
             rules = [*crossing.rules, *[rows[number] for number in choice]]
             if Through(Crossing(crossing.places, crossing.ways, rules)):

@@ -1,6 +1,6 @@
 """Lines that are read word by word."""
 
-from tailheard.checks import is_name, is_text
+from tailheard.checks import MOST_NAME, SMALL, are_words, is_name, is_rising, is_text
 from tailheard.errors import BadLine
 
 
@@ -17,6 +17,10 @@ class LineWords:
     def is_over(self):
         """Whether all words have been taken."""
         return self.taken == len(self.words)
+
+    def begins_with(self, word):
+        """Whether this is the first word of the line."""
+        return self.words[0] == word
 
     def take(self, allowed):
         """The next word, which must be one of those allowed."""
@@ -37,6 +41,26 @@ class LineWords:
         self.taken += 1
         return self.words[self.taken - 1]
 
+    def take_name(self):
+        """The next word, which must be a name."""
+        return self.take_text(SMALL, 1, MOST_NAME)
+
+    def take_words(self):
+        """The next word, which must be the words of a house."""
+        if self.is_over() or not are_words(self.words[self.taken]):
+            raise BadLine(self.number, self.taken)
+        self.taken += 1
+        return self.words[self.taken - 1]
+
+    def take_numbers(self, most):
+        """What the next word writes: ascending integers from 0 to the most, with a comma between any two."""
+        plain = [str(number) for number in range(most + 1)]
+        parts = [] if self.is_over() else self.words[self.taken].split(",")
+        if not parts or not all([part in plain for part in parts]) or not is_rising([int(part) for part in parts]):
+            raise BadLine(self.number, self.taken)
+        self.taken += 1
+        return [int(part) for part in parts]
+
     def take_amount(self, most):
         """What the next word writes: an integer from 0 to the most, or a name."""
         if not self.is_over() and is_name(self.words[self.taken]):
@@ -48,3 +72,12 @@ class LineWords:
         """Let the line end here."""
         if not self.is_over():
             raise BadLine(self.number, self.taken)
+
+
+def read_all(reader, lines):
+    """What a reader has made when it has taken up all lines."""
+    for number in range(len(lines)):
+        reader.read(LineWords(lines, number))
+    if reader.is_open():
+        raise BadLine(len(lines), 0)
+    return reader.made()

@@ -2,7 +2,7 @@
 
 from tailheard.checks import CAPITALS, check_words
 from tailheard.drills import MOST_STANDINGS
-from tailheard.linewords import LineWords
+from tailheard.linewords import read_all
 from tailheard.makes import MOST_LAG, MOST_SEAT, Make
 
 # Which first words can come behind which; the empty one stands for the beginning.
@@ -33,21 +33,38 @@ def read_standing(line, many):
     return (stride, body, [line.take_integer(0, MOST_STANDINGS - 1) for sign in range(many)])
 
 
+class MakeReader:
+    """A make as far as its lines have been read."""
+
+    def __init__(self, words, space):
+        self._words = words
+        self._space = space
+        self._kinds = []
+        self._seats = []
+        self._before = ""
+
+    def is_open(self):
+        """Whether an `end` would end something in it."""
+        return False
+
+    def read(self, line):
+        """Take up one line."""
+        self._before = line.take(BEHIND[self._before])
+        if self._before == "kind":
+            self._kinds.append((line.take(list(CAPITALS)), line.take_integer(1, MOST_LAG), []))
+        elif self._before == "standing":
+            self._kinds[-1][2].append(read_standing(line, len(self._words) + 1))
+        else:
+            ahead = line.take(list(CAPITALS))
+            self._seats.append((ahead, line.take(list(CAPITALS)), line.take_integer(0, MOST_SEAT)))
+        line.finish()
+
+    def made(self):
+        """The make that the lines tell."""
+        return Make(self._words, self._kinds, self._space, self._seats)
+
+
 def read_make(words, space, lines):
     """The make with these words and this space that lines tell."""
     check_words(words)
-    kinds = []
-    seats = []
-    before = ""
-    for number in range(len(lines)):
-        line = LineWords(lines, number)
-        before = line.take(BEHIND[before])
-        if before == "kind":
-            kinds.append((line.take(list(CAPITALS)), line.take_integer(1, MOST_LAG), []))
-        elif before == "standing":
-            kinds[-1][2].append(read_standing(line, len(words) + 1))
-        else:
-            ahead = line.take(list(CAPITALS))
-            seats.append((ahead, line.take(list(CAPITALS)), line.take_integer(0, MOST_SEAT)))
-        line.finish()
-    return Make(words, kinds, space, seats)
+    return read_all(MakeReader(words, space), lines)

@@ -50,6 +50,17 @@ def tuples_below(limits):
     return rows
 
 
+def choices_below(many):
+    """All ascending tuples of numbers below so many, ordered by length, then as tuples."""
+    found = [()]
+    layer = found[:]
+    while layer:
+        layer = [(*choice, number) for choice in layer for number in range(many)
+                 if not choice or number > choice[-1]]
+        found = [*found, *layer]
+    return found
+
+
 def product_of(limits):
     """The product of some integers."""
     whole = 1

@@ -1,7 +1,7 @@
 """Plans written as lines, and read from them."""
 
 from tailheard.checks import SIGNS
-from tailheard.linewords import LineWords
+from tailheard.linewords import read_all
 from tailheard.plans import Plan
 from tailheard.rows import MOST_STATES
 
@@ -22,11 +22,27 @@ def read_state(line):
     return row
 
 
+class PlanReader:
+    """A plan as far as its lines have been read."""
+
+    def __init__(self, ends):
+        self._ends = ends
+        self._states = []
+
+    def is_open(self):
+        """Whether an `end` would end something in it."""
+        return False
+
+    def read(self, line):
+        """Take up one line."""
+        line.take(["state"])
+        self._states.append(read_state(line))
+
+    def made(self):
+        """The plan that the lines tell."""
+        return Plan(self._states, self._ends)
+
+
 def read_plan_lines(ends, lines):
     """The plan with these ends that lines tell."""
-    states = []
-    for number in range(len(lines)):
-        line = LineWords(lines, number)
-        line.take(["state"])
-        states.append(read_state(line))
-    return Plan(states, ends)
+    return read_all(PlanReader(ends), lines)

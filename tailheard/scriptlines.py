@@ -1,8 +1,7 @@
 """Scripts of programs written as lines, and read from them."""
 
 from tailheard.checks import SMALL
-from tailheard.errors import BadLine
-from tailheard.linewords import LineWords
+from tailheard.linewords import read_all
 from tailheard.programs import MOST_AMOUNT, Program
 
 FIRST_WORDS = ("say", "wait", "repeat", "answer")
@@ -25,39 +24,39 @@ def write_script(program):
 
 
 class ScriptReader:
-    """A script as far as its lines have been read."""
+    """A program as far as its lines have been read."""
 
-    def __init__(self):
-        self.bodies = [[]]
-        self.amounts = []
+    def __init__(self, words):
+        self._words = words
+        self._bodies = [[]]
+        self._amounts = []
 
     def is_open(self):
-        """Whether a body has begun that has not ended."""
-        return len(self.amounts) > 0
+        """Whether an `end` would end something in it: a body that has begun."""
+        return len(self._amounts) > 0
 
     def read(self, line):
         """Take up one line."""
         word = line.take([*FIRST_WORDS, "end"] if self.is_open() else FIRST_WORDS)
         if word == "say":
-            self.bodies[-1].append(("say", line.take(list(SMALL))))
+            self._bodies[-1].append(("say", line.take(list(SMALL))))
         elif word == "wait":
-            self.bodies[-1].append(("wait", line.take_amount(MOST_AMOUNT)))
+            self._bodies[-1].append(("wait", line.take_amount(MOST_AMOUNT)))
         elif word == "answer":
-            self.bodies[-1].append(("answer",))
+            self._bodies[-1].append(("answer",))
         elif word == "repeat":
-            self.amounts.append(line.take_amount(MOST_AMOUNT))
-            self.bodies.append([])
+            self._amounts.append(line.take_amount(MOST_AMOUNT))
+            self._bodies.append([])
         else:
-            body = self.bodies.pop()
-            self.bodies[-1].append(("repeat", self.amounts.pop(), body))
+            body = self._bodies.pop()
+            self._bodies[-1].append(("repeat", self._amounts.pop(), body))
         line.finish()
+
+    def made(self):
+        """The program that the lines tell."""
+        return Program(self._words, self._bodies[0])
 
 
 def read_script(words, lines):
     """The program over some words whose script lines tell."""
-    reader = ScriptReader()
-    for number in range(len(lines)):
-        reader.read(LineWords(lines, number))
-    if reader.is_open():
-        raise BadLine(len(lines), 0)
-    return Program(words, reader.bodies[0])
+    return read_all(ScriptReader(words), lines)

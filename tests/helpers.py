@@ -345,3 +345,36 @@ def random_obstacle(rng, names="AB", most=4):
     rows = rng.randint(1, 4)
     table = [[(rng.randint(0, 1), rng.randrange(rows)) for _ in names] for _ in range(rows)]
     return Obstacle(names, table, (rng.randint(1, most), rng.randint(1, most)), rng.randint(0, 1))
+
+
+def plain_feet(make, groups, has_band, slow, cycle, earshot, relay):
+    """The feet of a column, and for each group how far it is behind its last band, told group by group."""
+    fronts = [0]
+    for ahead, behind in zip(groups, groups[1:]):
+        fronts.append(fronts[-1] - make[ahead][0][1] - make.seat_of(ahead, behind))
+    feet, fars = [], []
+    for at in range(len(groups)):
+        bands = [number for number in range(at) if has_band[number]]
+        heard = None
+        if bands and fronts[bands[-1]] - fronts[at] <= earshot:
+            heard = (feet[bands[-1]] + slow * (fronts[bands[-1]] - fronts[at])) % cycle
+        fars.append(heard)
+        if has_band[at]:
+            feet.append(heard if relay and heard is not None else 0)
+        elif heard is not None:
+            feet.append(heard)
+        else:
+            feet.append(feet[-1] if at else 0)
+    return feet, fars
+
+
+def plain_apart(cycle, first, second):
+    """By how many ticks two feet are apart, found by trying."""
+    return min(ticks for ticks in range(cycle) if second in ((first + ticks) % cycle, (first - ticks) % cycle))
+
+
+def random_tune(rng, make):
+    """A random tune of a make."""
+    from tailheard.feet import Tune
+    bands = "".join(name for name in make.all_names if rng.random() < 0.5)
+    return Tune(make, bands, rng.randint(0, 12), rng.randint(2, 20), rng.randint(0, 25), rng.random() < 0.5)

@@ -285,25 +285,30 @@ class LanguageTest(unittest.TestCase):
         for _, node in self.nodes(ast.Attribute):
             if isinstance(node.ctx, ast.Store):
                 stored.add(node.attr)
+        setters = set()
         for _, node in self.nodes(ast.FunctionDef):
             if node.decorator_list and ast.unparse(node.decorator_list[0]) == "property":
                 properties.add(node.name)
+            elif node.decorator_list and ast.unparse(node.decorator_list[0]).endswith(".setter"):
+                setters.add(node.name)
         self.assertEqual(stored & BARRED_ATTRIBUTES, set())
-        self.assertEqual(stored & properties, set())
-        self.assertEqual(stored & self.own_methods, set())
+        self.assertEqual(stored & properties, setters)
+        self.assertEqual((stored - setters) & self.own_methods, set())
         values = {target.id for _, node in self.nodes(ast.ClassDef) for each in node.body
                   if isinstance(each, ast.Assign) for target in each.targets}
         for where, node in self.nodes(ast.Attribute):
-            known = stored | properties | self.own_methods | METHODS | values
+            known = stored | properties | self.own_methods | METHODS | values | {"setter"}
             self.assertIn(node.attr, known, where)
         for where, node in self.nodes(ast.ClassDef):
-            own = [each.name for each in node.body if isinstance(each, ast.FunctionDef)]
+            # A property and its setter are one method.
+            own = [each.name for each in node.body if isinstance(each, ast.FunctionDef)
+                   and not (each.decorator_list and ast.unparse(each.decorator_list[0]).endswith(".setter"))]
             self.assertEqual(len(own), len(set(own)), where)
             if "__getitem__" in own:
                 self.assertIn("__iter__", own, where)
             kept = {each.attr for each in ast.walk(node) if isinstance(each, ast.Attribute)
                     and isinstance(each.ctx, ast.Store)}
-            self.assertEqual(kept & set(own), set(), where)
+            self.assertEqual((kept - setters) & set(own), set(), where)
 
     def test_len_and_iter(self):
         for where, node in self.nodes(ast.FunctionDef):
