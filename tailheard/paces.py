@@ -5,10 +5,7 @@ from math import gcd
 from tailheard.checks import frozen, is_integer, is_tuple
 from tailheard.nodes import Nodes
 from tailheard.sums import least_sums
-from tailheard.trees import least_way
-
-# What the search for a loop looks for in the place of the number of the node at which it begins.
-HOME = -1
+from tailheard.trees import way_back
 
 
 def lowest(above, below):
@@ -83,15 +80,6 @@ class NodeNet:
                       for node in self.order]
 
 
-def way_home(tight, home):
-    """The least list of signs that leads from a node back to it, None if there is none."""
-    def onward(at):
-        here = home if at == HOME else at
-        return [(sign, HOME if onto == home else onto) for sign, onto in tight[here]]
-
-    return least_way(home, onward, HOME)
-
-
 def least_loop(net, pace, potentials):
     """The node and the string of the least loop that has the greatest mean.
 
@@ -103,7 +91,7 @@ def least_loop(net, pace, potentials):
                       if potentials[onto] == potentials[at] + pace[1] * stride - pace[0]])
     best = None
     for home in range(len(tight)):
-        way = way_home(tight, home)
+        way = way_back(home, lambda at: tight[at])
         if way is not None and (best is None or len(way) < len(best[1])):
             best = (net.order[home], "".join(way))
     return best

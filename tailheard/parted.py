@@ -5,10 +5,7 @@ from tailheard.checks import frozen, is_integer, is_tuple
 from tailheard.duos import Duo
 from tailheard.errors import NotSteady
 from tailheard.ranks import ranks_of
-from tailheard.trees import least_way
-
-# What the search for a loop looks for in the place of the between at which it begins.
-HOME = ()
+from tailheard.trees import way_back
 
 
 def check_steady(make, name):
@@ -29,11 +26,7 @@ def parted_onward(betweens, between):
 
 def least_loop(betweens, home):
     """The least string by which a way of parted betweens leads back to where it began, None if there is none."""
-    def onward(between):
-        here = home if between == HOME else between
-        return [(sign, HOME if onto == home else onto) for sign, onto in parted_onward(betweens, here)]
-
-    way = least_way(home, onward, HOME)
+    way = way_back(home, lambda between: parted_onward(betweens, between))
     return None if way is None else "".join(way)
 
 

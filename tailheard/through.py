@@ -4,10 +4,7 @@ from tailheard.checks import is_integer, is_tuple
 from tailheard.crossings import is_situation, situation_tree
 from tailheard.judges import judge_ranked
 from tailheard.ranks import ranks_of
-from tailheard.trees import least_way
-
-# What the search for a loop looks for in the place of the situation at which it begins.
-HOME = ()
+from tailheard.trees import way_back
 
 
 def beats_behind(crossing, situation):
@@ -26,11 +23,7 @@ def resting(beats, way):
 
 def least_loop(beats_of, way, home):
     """The least tuple of offers that leads from a situation back to it while a way rests, None if there is none."""
-    def onward(situation):
-        here = home if situation == HOME else situation
-        return [(offer, HOME if onto == home else onto) for offer, onto in resting(beats_of[here], way)]
-
-    found = least_way(home, onward, HOME)
+    found = way_back(home, lambda situation: resting(beats_of[situation], way))
     return None if found is None else tuple(found)
 
 

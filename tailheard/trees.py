@@ -6,6 +6,9 @@ the string with which a thing is found first is the least one.
 
 from tailheard.errors import TooMany
 
+# What the search for a way back looks for: it is none of the points (0, thing), but can be compared with them.
+BACK = (1,)
+
 
 class Tree:
     """Groups of things that have the same least string, as far as they have been found."""
@@ -65,3 +68,11 @@ def least_way(first, onward, goal):
     if goal not in tree.group_of:
         return None
     return tree.signs_to(goal)
+
+
+def way_back(home, onward):
+    """The least list of at least one sign that leads from a thing back to it, None if there is none."""
+    def points(point):
+        return [(sign, BACK if onto == home else (0, onto)) for sign, onto in onward(point[1])]
+
+    return least_way((0, home), points, BACK)

@@ -7,11 +7,9 @@ from tailheard.errors import BadSeen
 from tailheard.judges import judge_ranked
 from tailheard.looks import looks_of
 from tailheard.ranks import ranks_of
-from tailheard.trees import least_way, whole_tree
+from tailheard.trees import way_back, whole_tree
 
 MOST_KNOWLEDGES = 250
-# What the search for a loop looks for in the place of the knowledge at which it begins.
-HOME = ()
 
 
 class Watcher:
@@ -50,18 +48,14 @@ class Watcher:
         """Whether the other group has different looks in two betweens of a knowledge."""
         return len(set([self.look(1 - self._seen, between) for between in knowledge])) > 1
 
-    def doubts_onward(self, knowledge):
-        """The pairs (look, knowledge) of the looks that lead from a knowledge to one in doubt."""
-        return [(look, onto) for look, onto in self.onward(knowledge) if self.is_doubtful(onto)]
-
-    def least_loop(self, home):
-        """The least string of looks by which doubts lead from a knowledge back to it, None if there is none."""
-        def onward(knowledge):
-            here = home if knowledge == HOME else knowledge
-            return [(look, HOME if onto == home else onto) for look, onto in self.doubts_onward(here)]
-
-        way = least_way(home, onward, HOME)
-        return None if way is None else "".join(way)
+    def doubts(self, order):
+        """For the number of each knowledge in doubt the pairs (look, number) of those that follow and are, too."""
+        number = {knowledge: at for at, knowledge in enumerate(order) if self.is_doubtful(knowledge)}
+        found = {}
+        for knowledge in number:
+            onward = [(look, onto) for look, onto in self.onward(knowledge) if onto in number]
+            found[number[knowledge]] = [(look, number[onto]) for look, onto in onward]
+        return found
 
     def has_row_form(self, row):
         """Whether a row has the form of a knowledge with a rank."""
@@ -85,6 +79,15 @@ class Watcher:
         return True
 
 
+def first_loop(doubts, ranks):
+    """The number of the first knowledge from which doubts lead back to it, and the least loop; there is one."""
+    for at in doubts:
+        way = None if at in ranks else way_back(at, lambda number: doubts[number])
+        if way is not None:
+            return at, "".join(way)
+    return None
+
+
 class Watch:
     """Whether the doubt of a watcher always ends: ranks if it does, a loop if not."""
 
@@ -92,22 +95,18 @@ class Watch:
         watcher = Watcher(make, looks, ahead, behind, calls, seen)
         tree = whole_tree(watcher.first, lambda thing: watcher.onward(thing), MOST_KNOWLEDGES, "knowledge")
         order = tree.ordered()
-        followers = {}
-        for knowledge in order:
-            if watcher.is_doubtful(knowledge):
-                followers[knowledge] = [onto for look, onto in watcher.doubts_onward(knowledge)]
-        ranks = ranks_of(followers)
+        doubts = watcher.doubts(order)
+        ranks = ranks_of({at: [onto for look, onto in doubts[at]] for at in doubts})
         self.text = None
         self.loop = None
         self.delay = None
         self.table = None
-        if len(ranks) == len(followers):
-            self.table = tuple([(knowledge, ranks.get(knowledge, 0)) for knowledge in order])
+        if len(ranks) == len(doubts):
+            self.table = tuple([(knowledge, ranks.get(at, 0)) for at, knowledge in enumerate(order)])
             self.delay = max([rank for knowledge, rank in self.table])
-        for knowledge in followers:
-            if self.loop is None and knowledge not in ranks:
-                self.loop = watcher.least_loop(knowledge)
-                self.text = None if self.loop is None else "".join(tree.signs_to(knowledge))
+        else:
+            at, self.loop = first_loop(doubts, ranks)
+            self.text = "".join(tree.signs_to(order[at]))
         self._rows = self.table or ()
         self._watcher = watcher
 
