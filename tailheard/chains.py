@@ -2,7 +2,7 @@
 
 from tailheard.checks import frozen, is_integer, is_tuple
 from tailheard.errors import BadChain, BadMost
-from tailheard.obstacles import Obstacle, check_stream
+from tailheard.obstacles import Obstacle
 
 MOST_OBSTACLES = 3
 
@@ -46,7 +46,7 @@ class Chain:
         return Chain(self.obstacles * times)
 
     def __call__(self, stream):
-        check_stream(self.obstacles[0].names, stream)
+        # The first obstacle judges the stream; what comes out of one is a stream of the next one.
         passed = stream
         for obstacle in self.obstacles:
             passed = obstacle(passed)

@@ -40,8 +40,8 @@ class Sides:
 
     def moves(self, pair):
         """For each offer, ascending, the triple (offer, pair, whether the same ways are left)."""
-        both = zip(self._offers, self._first.onward(pair[0]), self._second.onward(pair[1]))
-        return [(offer, (one[0], two[0]), one[1] == two[1]) for offer, one, two in both]
+        return [(offer, (one[0], two[0]), one[1] == two[1]) for offer, one, two
+                in zip(self._offers, self._first.onward(pair[0]), self._second.onward(pair[1]))]
 
     def onward(self, pair):
         """The pairs (offer, pair) of all beats from a pair of situations."""

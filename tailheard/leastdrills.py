@@ -23,8 +23,8 @@ class Eyes:
 
     def onward(self, pair):
         """The pairs (sign, pair) of all signs behind a pair of standings."""
-        both = zip(self._signs, self._first[pair[0]][2], self._second[pair[1]][2])
-        return [(sign, (one, two)) for sign, one, two in both]
+        return [(sign, (one, two)) for sign, one, two
+                in zip(self._signs, self._first[pair[0]][2], self._second[pair[1]][2])]
 
     def is_same(self, pair):
         """Whether a pair of standings has the same stride and body."""

@@ -186,6 +186,18 @@ class JudgeTest(unittest.TestCase):
             self.assertEqual(self.judge(self.table + (row,)), len(self.table), row)
             self.assertEqual(self.judge((row, *self.table)), 0, row)
 
+    def test_situations_that_there_cannot_be(self):
+        # Nothing is wrong with these but their form: all offers lead back to what is there.
+        table = CrossingPair(ONE, ONE).table
+        for memory in (4, -1, False):
+            for side in (0, 1):
+                never = []
+                for row in table:
+                    groups, waiting, _ = row[side]
+                    other = (groups, waiting, (memory, 0))
+                    never.append((row[0], other) if side else (other, row[1]))
+                self.assertEqual(judge_crossings(ONE, ONE, table + tuple(never)), len(table))
+
     def test_rows_that_are_never_reached(self):
         # The memories 1 and 2 of the first place: no rule ever tells of it.
         more = tuple(((one[0], one[1], (2, one[2][1])), (two[0], two[1], (two[2][0], 1, two[2][2])))

@@ -74,6 +74,7 @@ class CrossingTest(unittest.TestCase):
         good = (1, 3, "?#.", (1, 1), 3)
         self.assertEqual(Crossing(3, PLUS.ways, [good]).rules, (good,))
         for row in ((), None, "abcde", good[:4], good + (0,), (3, *good[1:]), (-1, *good[1:]), (True, *good[1:]),
+                    (3, 0, "???", None, 0), (-1, 0, "???", None, 0), (False, 0, "???", None, 0),
                     (1, 4, *good[2:]), (1, -1, *good[2:]), (1, False, *good[2:]), (1, "0", *good[2:]),
                     (1, 0, "??", *good[3:]), (1, 0, "????", *good[3:]), (1, 0, "??x", *good[3:]),
                     (1, 0, ("?", "?", "?"), *good[3:]), (1, 0, None, *good[3:]), (1, 0, "???", (0, 0), 0),

@@ -193,6 +193,9 @@ class JudgeTest(unittest.TestCase):
                       (state, row, zero, (".", "."))):
             self.assertEqual(self.judge((wrong, *self.table)), 0, wrong)
             self.assertEqual(self.judge((wrong,)), -1, wrong)
+        # Nothing is wrong with these but their form: silence leads them back to themselves.
+        for row in ((-1, -1, zero, one), (-1, 2, zero, one), (-1, True, zero, one)):
+            self.assertEqual(self.judge((*self.table, row)), len(self.table), row)
 
 
 def behind(obstacle, plan, passage):

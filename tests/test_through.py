@@ -197,6 +197,30 @@ class JudgeTest(unittest.TestCase):
         self.assertIsNone(judge_through(quiet, table + never))
         self.assertEqual(judge_through(quiet, table + never[:2]), 4)
 
+    def test_situations_that_there_cannot_be(self):
+        # Nothing is wrong with these but their form: all offers lead back to what is there.
+        quiet = Crossing(1, [(0,)])
+        table = Through(quiet).table
+        for memory in (4, -1, False, True):
+            never = tuple(((groups, waiting, (memory,)), ranks) for (groups, waiting, _), ranks in table)
+            self.assertEqual(judge_through(quiet, table + never), len(table), memory)
+        for waiting in (2, -1, False, True):
+            self.assertEqual(judge_through(quiet, table + ((((), (waiting,), (0,)), (9,)),)), len(table), waiting)
+        self.assertEqual(judge_through(quiet, table + ((((), (0, 0), (0,)), (9,)),)), len(table))
+        self.assertEqual(judge_through(quiet, table + ((((), (0,), (0, 0)), (9,)),)), len(table))
+        side = Crossing(3, [(0,), (1,)])
+        table = Through(side).table
+        for groups in (((1, 0), (0, 0)), ((0, 0), (0, 0))):
+            self.assertEqual(judge_through(side, table + (((groups, (0, 0), (0, 0, 0)), (9, 9)),)), len(table))
+        ring = Crossing(2, [(0, 1, 0)], [(0, 0, ".#", (0, 2), 0)])
+        table = Through(ring).table
+        both = (((0, 0), (0, 2)), (0,), (0, 0))
+        queue = [both]
+        for here in queue:
+            queue += [onto for onto in (ring.beat(here, offer)[0] for offer in ring.all_offers) if onto not in queue]
+        more = tuple((here, (9 - at,)) for at, here in enumerate(queue) if here not in dict(table))
+        self.assertEqual((more[0][0], judge_through(ring, table + more)), (both, len(table)))
+
 
 if __name__ == "__main__":
     unittest.main()
