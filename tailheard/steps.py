@@ -88,8 +88,8 @@ class PaceStates:
             return False
         if not is_letter(thing[1], self._tune.make.all_names) or not in_bounds(thing[2], 0, self._tune.cycle - 1):
             return False
-        if thing[3] is None or thing[4] is None:
-            return thing[3] is None and thing[4] is None
+        if thing[3] is None and thing[4] is None:
+            return True
         return in_bounds(thing[3], 0, self._tune.earshot) and in_bounds(thing[4], 0, self._tune.cycle - 1)
 
 

@@ -123,7 +123,7 @@ class ToldCalling:
 
     def each_fit(self):
         """All fits, ascending, one by one."""
-        stack = [("", ((0,), 0))] if self.number > 0 else []
+        stack = [("", ((0,), 0))]
         while stack:
             text, node = stack.pop()
             if len(text) == len(self._layers):

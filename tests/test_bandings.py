@@ -33,6 +33,13 @@ class BandingsTest(unittest.TestCase):
         self.assertEqual(fewest_bands(Column(MAKE, "A" * 12), 0, 10, 6, False, 0), (4, (0, 3, 6, 9)))
         self.assertEqual(fewest_bands(Column(MAKE, "A" * 3), 0, 10, 2, False, 0), (3, (0, 1, 2)))
 
+    def test_each_group_is_in_step_with_the_one_ahead(self):
+        # The feet are 0, 3 and 6: the head and the last group are farther apart than neighbours.
+        self.assertEqual(fewest_bands(Column(MAKE, "AAA"), 1, 20, 60, False, 3), (1, (0,)))
+        self.assertEqual(fewest_bands(Column(MAKE, "AAA"), 1, 20, 60, False, 2), (3, (0, 1, 2)))
+        # With bands for the first two the feet would be 0, 0 and 3.
+        self.assertEqual(fewest_bands(Column(MAKE, "AAA"), 1, 20, 3, False, 2), (3, (0, 1, 2)))
+
     def test_none(self):
         # Each pace needs a tick, so two bands that hear one another are three ticks apart.
         self.assertEqual(fewest_bands(Column(MAKE, "AA"), 1, 10, 3, True, 2), (None, None))

@@ -132,6 +132,8 @@ class CutTest(unittest.TestCase):
                            ("strike abcdefghi", 1), ("end", 0), ("kind A 1", 0), ("say a", 0), ("house", 0),
                            ("Make d ab 5", 0), ("way 0", 0), ("state", 0), ("answer", 0)):
             self.assertEqual(bad((line, *LINES)), (0, 0, word), line)
+        self.assertEqual(read_journal(("crossing c 1", "way 0", "end"))["c"].places, 1)
+        self.assertEqual(read_journal(("crossing c 8", "way 7", "end"))["c"].places, 8)
         self.assertEqual(read_journal(("plan p 0,59", *["state . 59"] * 60, "end"))["p"].ends, (0, 59))
 
     def test_ends(self):

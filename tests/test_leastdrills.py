@@ -68,6 +68,13 @@ class DrillPairTest(unittest.TestCase):
             self.assertEqual((len(told), list(told)), (0, []))
             self.assertEqual(DrillPair(Drill("ab", rows), ONE).calling, calling)
 
+    def test_as_many_pairs_as_there_can_be(self):
+        # One word leads the one drill round, the other word leads the other one.
+        first = Drill("ab", [(0, 1, (at, (at + 1) % 6, at)) for at in range(6)])
+        second = Drill("ab", [(0, 1, (at, at, (at + 1) % 6)) for at in range(6)])
+        told = DrillPair(first, second)
+        self.assertEqual((len(told), told.table[:4]), (36, ((0, 0), (1, 0), (0, 1), (2, 0))))
+
     def test_other_words(self):
         other = Drill("a", ((0, 1, (0, 0)),))
         for call in (DrillPair, lambda *things: judge_drills(*things, None)):
@@ -111,6 +118,13 @@ class JudgeTest(unittest.TestCase):
         for wrong in (table + ((1, 2),), table + ((0, 1),), table + ((3, 0),), table + ((1, 3),)):
             self.assertEqual(self.judge(wrong), 3, wrong)
 
+    def test_unlike_pairs_behind_which_all_is_well(self):
+        first = Drill("a", ((0, 1, (0, 1)), (1, 1, (1, 1))))
+        for stride, body in ((2, 1), (1, 2)):
+            second = Drill("a", ((0, 1, (0, 1)), (stride, body, (1, 1))))
+            self.assertEqual(judge_drills(first, second, ((0, 0), (1, 1))), 1)
+        self.assertIsNone(judge_drills(first, first, ((0, 0), (1, 1))))
+
     def test_rows_taken_out(self):
         table = ((0, 0), (1, 1), (2, 2))
         for wrong in ((), table[1:], None, "", 0, ((0, 1),)):
@@ -128,6 +142,12 @@ class JudgeTest(unittest.TestCase):
             self.assertEqual(judge_drills(TWICE, ONE, (row,)), -1, row)
 
 
+    def test_rows_that_only_their_form_can_make_wrong(self):
+        lone = Drill("a", ((0, 1, (0, 0)),))
+        for row in ((-1, 0), (0, -1), (1, 0), (0, 1), (False, 0), (0, False), (0, 0, 0), (0,)):
+            self.assertEqual(judge_drills(lone, lone, ((0, 0), row)), 1, row)
+
+
 class LeastDrillTest(unittest.TestCase):
     def test_least(self):
         self.assertEqual(least_drill(TWICE), ONE)
@@ -138,6 +158,10 @@ class LeastDrillTest(unittest.TestCase):
         # A standing like rest is rest.
         self.assertEqual(least_drill(Drill("a", ((0, 1, (0, 1)), (0, 1, (1, 0))))), Drill("a", ((0, 1, (0, 0)),)))
         self.assertEqual(len(least_drill(Drill("a", ((0, 1, (0, 1)), (0, 2, (1, 0)))))), 2)
+
+    def test_standings_that_only_long_callings_tell_apart(self):
+        drill = Drill("a", [(0, 1 + at // 5, (at, min(at + 1, 5))) for at in range(6)])
+        self.assertEqual(least_drill(drill), drill)
 
     def test_order_of_sign_and_not_of_number(self):
         drill = Drill("ab", ((0, 1, (0, 3, 2)), (1, 1, (0, 0, 0)), (2, 1, (1, 0, 0)), (3, 1, (0, 0, 0))))

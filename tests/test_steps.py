@@ -227,6 +227,20 @@ class JudgeTest(unittest.TestCase):
             self.assertEqual(self.judge((row, *self.table)), 0, row)
             self.assertEqual(self.judge((row,)), -1, row)
 
+    def test_rows_that_only_their_form_can_make_wrong(self):
+        # No group follows behind the state 1, so nothing else is asked of these rows.
+        plan = read_plan("A|B")
+        table = InStep(TUNE, plan, 0).table
+        for name in "AB":
+            for foot in (0, 9):
+                for far, band in ((None, None), (0, 0), (8, 9), (0, 9), (8, 0)):
+                    self.assertIsNone(judge_step(TUNE, plan, 0, (*table, (1, name, foot, far, band))))
+        for row in ((1, "A", 0, None, 0), (1, "A", 0, 0, None), (1, "A", 0, 9, 0), (1, "A", 0, -1, 0),
+                    (1, "A", 0, False, 0), (1, "A", 0, 0, 10), (1, "A", 0, 0, -1), (1, "A", 0, 0, True),
+                    (1, "A", 10, 0, 0), (1, "A", -1, 0, 0), (1, "A", False, 0, 0), (1, "C", 0, 0, 0), (2, "A", 0, 0, 0),
+                    (True, "A", 0, 0, 0), (1, "A", 0, 0), (1, "A", 0, 0, 0, 0), (1, "", 0, 0, 0), (1, "AB", 0, 0, 0)):
+            self.assertEqual(judge_step(TUNE, plan, 0, (*table, row)), len(table), row)
+
 
 class WorstTest(unittest.TestCase):
     def test_worst(self):

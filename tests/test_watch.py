@@ -200,8 +200,18 @@ class JudgeTest(unittest.TestCase):
         for whole in (self.table, self.table[::-1], self.table * 2,
                       [[[list(each) for each in knowledge], rank] for knowledge, rank in self.table]):
             self.assertIsNone(self.judge(whole))
-        # All ranks can be greater, one by one from above.
+        # All ranks can be greater, one by one from above; those of knowledges not in doubt do not count.
         self.assertIsNone(self.judge(tuple((knowledge, rank * 2) for knowledge, rank in self.table)))
+        self.assertIsNone(self.judge(tuple((knowledge, rank or 99) for knowledge, rank in self.table)))
+
+    def test_doubt_that_comes_up_again(self):
+        make = Make("ab", [("B", 1, ((0, 1, (0, 0, 1)), (-1, 2, (0, 1, 0))))])
+        things = (make, ["xy"], "B", "B", read_plan("b*"), "behind")
+        table = Watch(*things).table
+        looker = Looker(*things)
+        sure = [knowledge for knowledge, rank in table if rank == 0]
+        self.assertTrue(any(looker.is_doubtful(onto) for each in sure for onto in looker.onward(each).values()))
+        self.assertIsNone(judge_watch(*things, table))
 
     def test_beginning(self):
         for table in ((), self.table[1:], None, "", 0):
@@ -242,7 +252,7 @@ class JudgeTest(unittest.TestCase):
         good = (0, 1, 0, ".")
         for row in (None, (), (knowledge,), (knowledge, rank, rank), (knowledge, -1), (knowledge, True),
                     (knowledge, None), (knowledge, "1"), ((), 0), (knowledge[::-1], rank), (knowledge[:1] * 2, rank),
-                    (knowledge[0], 0), (None, 0), ("", 0), ((None,), 0), (((-2, *good[1:]),), 9),
+                    (knowledge[0], 0), (None, 0), ("", 0), (3, 0), (True, 0), ((None,), 0), (((-2, *good[1:]),), 9),
                     (((3, *good[1:]),), 9), (((True, *good[1:]),), 9), (((0, 2, 0, "."),), 9),
                     (((0, 0, -1, "."),), 9), (((0, 0, 0, ""),), 9), (((0, 0, 0, ".."),), 9), (((0, 0, 0, "c"),), 9),
                     (((0, 0, 0),), 9)):
